@@ -1,0 +1,1 @@
+"""What a limit on the depth of calls changes, for all limits."""

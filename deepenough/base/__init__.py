@@ -1,0 +1,1 @@
+"""Words, sets of limits, and what else the other parts stand on."""

@@ -1,0 +1,40 @@
+"""What is a number, a name, a limit."""
+
+LETTERS = "abcdefghijklmnopqrstuvwxyz"
+LONGEST_NAME = 8
+
+
+def is_whole(value):
+    """Whether the value is an integer; True and False are none."""
+    return isinstance(value, int) and not isinstance(value, bool)
+
+
+def is_whole_within(value, low, high):
+    """Whether the value is an integer from low to high, both included."""
+    return is_whole(value) and low <= value <= high
+
+
+def is_whole_from(value, low):
+    """Whether the value is an integer that is not less than low."""
+    return is_whole(value) and low <= value
+
+
+def is_ascending_below(value, bound):
+    """Whether the value is an ascending tuple of integers from 0 on that are less than a bound."""
+    if not isinstance(value, tuple):
+        return False
+    if not all([is_whole_within(item, 0, bound - 1) for item in value]):
+        return False
+    return all([one < other for one, other in zip(value, value[1:])])
+
+
+def is_name(value):
+    """Whether the value is a name."""
+    if not isinstance(value, str) or not 1 <= len(value) <= LONGEST_NAME:
+        return False
+    return all([letter in LETTERS for letter in value])
+
+
+def is_limit(value):
+    """Whether the value is a limit; None is no limit at all, and counts."""
+    return value is None or is_whole_from(value, 0)
