@@ -1,6 +1,7 @@
 """The rules of the language that can be seen without running anything."""
 
 import ast
+import builtins
 import pathlib
 import re
 import unittest
@@ -64,7 +65,9 @@ class Words(unittest.TestCase):
                 self.assertEqual(node.level, 0, path)
                 if node.module.split(".")[0] == "deepenough":
                     target = PACKAGE.parent / (node.module.replace(".", "/") + ".py")
-                    defined = [other.name for other in parsed(target).body if hasattr(other, "name")]
+                    body = parsed(target).body
+                    defined = [other.name for other in body if hasattr(other, "name")]
+                    defined += [other.targets[0].id for other in body if isinstance(other, ast.Assign)]
                     self.assertLessEqual({name.name for name in node.names}, set(defined), path)
                 else:
                     self.assertLessEqual({name.name for name in node.names}, LIBRARY[node.module], path)
@@ -95,6 +98,91 @@ class Words(unittest.TestCase):
             for node in nodes(path, ast.FunctionDef):
                 for mark in node.decorator_list:
                     self.assertIn(getattr(mark, "id", getattr(mark, "attr", None)), DECORATORS, path)
+
+
+METHODS = set("""append clear copy count endswith extend find get index insert isalnum isalpha isdigit islower isspace
+isupper items join keys ljust lower lstrip partition pop remove replace reverse rfind rjust rpartition rsplit rstrip
+setdefault split splitlines startswith strip update upper values zfill bit_length isascii removeprefix removesuffix
+add discard popleft appendleft""".split())
+CALLED = set("""len range enumerate zip min max sum abs sorted reversed int str bool list tuple dict set isinstance ord repr
+any all divmod type super""".split())
+ERRORS = set("""Exception ValueError TypeError KeyError IndexError LookupError ZeroDivisionError ArithmeticError
+OverflowError RuntimeError""".split())
+ATTRIBUTES = set("""items keys values pop update append clear extend insert remove reverse setdefault sort args encode
+decode hex fromhex format register mro elements open input law""".split())
+OPERATORS = set("""__add__ __and__ __or__ __sub__ __xor__ __invert__ __bool__ __contains__ __getitem__ __iter__ __call__
+__enter__ __exit__ __init__ __eq__ __str__ __len__""".split())
+
+
+def classes():
+    return [node for path in FILES for node in nodes(path, ast.ClassDef)]
+
+
+def assigned(path):
+    """The names of all parameters and variables of the functions of a file."""
+    found = {node.arg for node in nodes(path, ast.arg)}
+    return found | {node.id for function in nodes(path, ast.FunctionDef) for node in ast.walk(function)
+                    if isinstance(node, ast.Name) and isinstance(node.ctx, ast.Store)}
+
+
+class Names(unittest.TestCase):
+    def test_no_attribute_has_the_name_of_a_method_or_a_property(self):
+        methods = {node.name for one in classes() for node in one.body if isinstance(node, ast.FunctionDef)}
+        stored = {node.attr for path in FILES for node in nodes(path, ast.Attribute) if isinstance(node.ctx, ast.Store)}
+        self.assertEqual(stored & (methods | ATTRIBUTES), set())
+        self.assertLessEqual({name for name in methods if name.startswith("__")}, OPERATORS)
+
+    def test_no_variable_has_the_name_of_a_builtin_a_class_or_an_import(self):
+        for path in FILES:
+            barred = set(dir(builtins)) | {node.name for node in nodes(path, ast.ClassDef)}
+            barred |= {alias.name for node in nodes(path, ast.ImportFrom) for alias in node.names}
+            self.assertEqual(assigned(path) & barred, set(), path)
+
+    def test_kept_answers_are_read_in_their_properties_alone(self):
+        for one in classes():
+            for node in one.body:
+                if isinstance(node, ast.FunctionDef) and isinstance(node.body[-2:][0], ast.If) \
+                        and [getattr(mark, "id", "") for mark in node.decorator_list] == ["property"]:
+                    kept = node.body[-1].value.attr
+                    found = [other.attr for path in FILES for other in nodes(path, ast.Attribute) if other.attr == kept]
+                    self.assertEqual(len(found), 4, kept)
+
+
+class Calls(unittest.TestCase):
+    def test_only_the_methods_of_the_language(self):
+        own = {node.name for path in FILES for node in nodes(path, ast.FunctionDef)}
+        for path in FILES:
+            for node in nodes(path, ast.Call):
+                if isinstance(node.func, ast.Attribute):
+                    self.assertIn(node.func.attr, METHODS | own, path)
+
+    def test_only_the_builtins_of_the_language(self):
+        for path in FILES:
+            used = {node.id for node in nodes(path, ast.Name)} & set(dir(builtins))
+            self.assertLessEqual(used, CALLED | ERRORS | {"property", "classmethod", "staticmethod"}, path)
+
+    def test_no_generator_no_handler_and_no_sorting_in_place(self):
+        for path in FILES:
+            self.assertEqual(nodes(path, ast.GeneratorExp, ast.Yield, ast.YieldFrom, ast.Global, ast.Try), [], path)
+            self.assertNotIn("sort", [node.attr for node in nodes(path, ast.Attribute)], path)
+
+    def test_is_stands_beside_none_true_and_false(self):
+        for path in FILES:
+            for node in nodes(path, ast.Compare):
+                for sign, other in zip(node.ops, node.comparators):
+                    if isinstance(sign, (ast.Is, ast.IsNot)):
+                        plain = isinstance(other, ast.Constant) and other.value in (None, True, False)
+                        self.assertTrue(plain or ast.unparse(node.left).startswith("type("), path)
+
+    def test_no_file_imports_itself_through_others(self):
+        behind = {}
+        for path in FILES:
+            name = ".".join(path.relative_to(PACKAGE.parent).with_suffix("").parts)
+            behind[name] = {node.module for node in nodes(path, ast.ImportFrom)}
+        while behind:
+            ready = [name for name in behind if not behind[name] & set(behind)]
+            self.assertNotEqual(ready, [], behind)
+            behind = {name: held for name, held in behind.items() if name not in ready}
 
 
 if __name__ == "__main__":

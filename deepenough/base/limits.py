@@ -107,14 +107,14 @@ class Limits:
             return early
         # The number can have forty digits, so whole periods are multiplied and not counted.
         periods, more = divmod(number - self.first, self.period)
-        late = len([value for value in self._starts() if value < self.first + more])
+        late = len([value for value in self._late() if value < self.first + more])
         return early + periods * len(self.rests) + late
 
     def members(self, many):
         """The tuple of the least so many members, fewer if there are no more."""
         if not is_whole_within(many, 0, MOST_MEMBERS):
             raise InvalidNumber(many)
-        starts = self._starts()
+        starts = self._late()
         found = list(self.few)
         gone = 0
         while starts and len(found) < many:
@@ -135,7 +135,7 @@ class Limits:
         rests = sorted([(rest + number) % self.period for rest in self.rests])
         return Limits(tuple(few), max(0, first), self.period, tuple(rests))
 
-    def _starts(self):
+    def _late(self):
         """For each rest the least member from first on with it, in ascending order."""
         return [value for value in range(self.first, self.first + self.period) if value in self]
 
@@ -169,7 +169,7 @@ class Limits:
 
     def __str__(self):
         few = [str(value) for value in self.few]
-        late = [f"{value}+{self.period}k" for value in self._starts()]
+        late = [f"{value}+{self.period}k" for value in self._late()]
         words = [*few, *late]
         if not words:
             return "none"

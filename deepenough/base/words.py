@@ -1,6 +1,5 @@
 """What is a number, a name, a limit."""
 
-LETTERS = "abcdefghijklmnopqrstuvwxyz"
 LONGEST_NAME = 8
 
 
@@ -23,16 +22,19 @@ def is_ascending_below(value, bound):
     """Whether the value is an ascending tuple of integers from 0 on that are less than a bound."""
     if not isinstance(value, tuple):
         return False
-    if not all([is_whole_within(item, 0, bound - 1) for item in value]):
-        return False
-    return all([one < other for one, other in zip(value, value[1:])])
+    last = -1
+    for item in value:
+        if not is_whole(item) or item <= last:
+            return False
+        last = item
+    return last < bound
 
 
 def is_name(value):
     """Whether the value is a name."""
     if not isinstance(value, str) or not 1 <= len(value) <= LONGEST_NAME:
         return False
-    return all([letter in LETTERS for letter in value])
+    return value.isascii() and value.isalpha() and value.islower()
 
 
 def is_limit(value):

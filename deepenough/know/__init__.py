@@ -1,0 +1,1 @@
+"""What is known about all limits at once."""

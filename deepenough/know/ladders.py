@@ -1,0 +1,126 @@
+"""The rows of a program, one worked out of the other, as far as they have been asked for."""
+
+from deepenough.errors import TooMany
+from deepenough.know.boards import Board
+
+MOST_ROWS = 400
+
+
+class Ladder:
+    """The rows of a program as codes, and the values from which they are.
+
+    When they have come round, `low` is the first limit of [0.17] and `span` the period; until then `span` is None.
+    """
+
+    def __init__(self, plan):
+        self.board = Board(plan)
+        self.low = 0
+        self.span = None
+        self.known = [{} for _ in self.board.charts]
+        self.worked = [self.board.worked_out(self.board.refusing())]
+        self.told = [self.board.codes_of(self.worked[0])]
+        self.numbers = {self.told[0]: 0}
+        self.limitless = None
+
+    def climb(self, number):
+        """From now on the row of a number is known, or how the rows come round."""
+        while self.span is None and len(self.told) <= number:
+            found = self._values_behind(self.told[-1])
+            codes = self.board.codes_of(found)
+            self.worked.append(found)
+            if codes in self.numbers:
+                self.low = self.numbers[codes]
+                self.span = len(self.told) - self.low
+            else:
+                self.numbers[codes] = len(self.told)
+                self.told.append(codes)
+
+    def has_round(self):
+        """Whether the rows come round, and first plus period is not too great."""
+        self.climb(MOST_ROWS)
+        return self.span is not None and len(self.told) <= MOST_ROWS
+
+    def place(self, number):
+        """The least number with the same row as a number up to which the rows are known."""
+        if number < len(self.told):
+            return number
+        return self.low + (number - self.low) % self.span
+
+    def place_of(self, limit):
+        """The place of a limit other than None, with the error of rows that come round too late."""
+        if limit >= MOST_ROWS and not self.has_round():
+            raise TooMany(MOST_ROWS)
+        self.climb(limit)
+        return self.place(limit)
+
+    def codes_at(self, limit):
+        """The row of a limit."""
+        if limit is None:
+            return self.without_limit()[0]
+        return self.told[self.place_of(limit)]
+
+    def values_at(self, limit):
+        """The values at a limit, which follow from the row of the limit that is less by one."""
+        if limit is None:
+            return self.without_limit()[1]
+        if limit == 0:
+            return self.worked[0]
+        place = self.place_of(limit - 1)
+        self.climb(place + 1)
+        return self.worked[place + 1]
+
+    def without_limit(self):
+        """The row without a limit, and the values of which it is."""
+        if self.limitless is None:
+            self.limitless = _limitless(self.board)
+        return self.limitless
+
+    def _values_behind(self, codes):
+        """The values that follow from a row. Each procedure follows from a few codes only, which come again."""
+        found = []
+        for chart, known in zip(self.board.charts, self.known):
+            asked = tuple([codes[entry] for entry in chart.entries])
+            if asked not in known:
+                known[asked] = chart.worked_out(codes)
+            found.extend(known[asked])
+        return tuple(found)
+
+
+def ladder_of(program):
+    """The rows of a program."""
+    memo = program.memo
+    if memo.ladder is None:
+        memo.ladder = Ladder(program.in_numbers)
+    return memo.ladder
+
+
+def _limitless(board):
+    """The row without a limit, and the values of which it is.
+
+    Leaves and fails are the least that follow from themselves. Only then it can be told what goes on for ever.
+    """
+    ends = board.endless - 1
+    codes = tuple([0 for _ in board.plan.pairs])
+    found = board.worked_out(codes)
+    after = tuple([value & ends for value in found])
+    while after != codes:
+        codes = after
+        found = board.worked_out(codes)
+        after = tuple([value & ends for value in found])
+    for_ever = _going_on(board, found)
+    return tuple([code | board.endless if goes_on else code for code, goes_on in zip(codes, for_ever)]), found
+
+
+def _going_on(board, found):
+    """For each procedure and mode whether it can go on for ever, in itself or by calling deeper and deeper."""
+    callees = [value >> board.called_from & (1 << len(found)) - 1 for value in found]
+    alone = [value & board.endless > 0 for value in found]
+    alive = (1 << len(found)) - 1
+    before = 0
+    while alive != before:
+        before = alive
+        alive = 0
+        for entry, callee in enumerate(callees):
+            if alone[entry] or callee & before:
+                alive |= 1 << entry
+    return [alive >> entry & 1 > 0 for entry in range(len(found))]

@@ -1,0 +1,47 @@
+"""Rows as they are told to others, and back."""
+
+from deepenough.base.words import is_ascending_below, is_whole
+
+
+def spelled(board, codes):
+    """The row of codes, as a new dict."""
+    return {pair: triple_of(board, code) for pair, code in zip(board.plan.pairs, codes)}
+
+
+def triple_of(board, code):
+    """The triple of a code."""
+    fails = board.mode_sets[code >> board.width & board.full]
+    return (board.mode_sets[code & board.full], fails, code >= board.endless)
+
+
+def codes_told(board, value):
+    """The codes of a row of the program by its form; None for every other value."""
+    pairs = board.plan.pairs
+    if not isinstance(value, dict) or len(value) != len(pairs):
+        return None
+    # True is equal to 1, so a key that is found can still be no pair of a name and a mode.
+    if not all([isinstance(key, tuple) and len(key) == 2 and is_whole(key[1]) for key in value]):
+        return None
+    if not all([pair in value for pair in pairs]):
+        return None
+    codes = [_code_of(board, value[pair]) for pair in pairs]
+    if None in codes:
+        return None
+    return tuple(codes)
+
+
+def _code_of(board, value):
+    """The code of a triple; None for every other value."""
+    if not isinstance(value, tuple) or len(value) != 3:
+        return None
+    leaves, fails, goes_on = value
+    if not is_ascending_below(leaves, board.width) or not is_ascending_below(fails, board.width):
+        return None
+    if not isinstance(goes_on, bool):
+        return None
+    code = board.endless if goes_on else 0
+    for mode in leaves:
+        code |= 1 << mode
+    for mode in fails:
+        code |= 1 << board.width + mode
+    return code
