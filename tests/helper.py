@@ -311,3 +311,109 @@ def model_limitless(program):
                     whole[name, move[1], mode].add((move[3], 0, mode))
     for_ever = can_go_on(whole)
     return {(name, mode): (*held[name, mode][:2], (name, 0, mode) in for_ever) for name, mode in held}
+
+
+def catching_site(program, mode, sites):
+    """The site that catches a fall through these open calls, or None."""
+    caught = [site for site in sites if program.move(site)[5] is not None]
+    return caught[-1] if caught else None
+
+
+def model_signs(program, limit):
+    """All signs that runs at a limit show, by all situations."""
+    found = set()
+    for mode, sites, spot in all_situations(program, limit):
+        if not isinstance(spot, tuple):
+            continue
+        name, point = spot
+        found.add(("place", name, point, mode))
+        full = limit is not None and len(sites) == limit
+        if full:
+            found.add(("full",))
+        for index, move in enumerate(program[name].moves):
+            if move[1] != point or move[0] == "go" or mode not in move[4 if move[0] == "call" else 2]:
+                continue
+            site = (name, index)
+            fallen = None
+            if move[0] == "call":
+                found.add(("over" if full else "enter", site))
+                fallen = catching_site(program, mode, (*sites, site)) if full else None
+            elif move[0] == "fail":
+                fallen = catching_site(program, mode, sites)
+            if fallen is not None:
+                found.add(("catch", fallen))
+    return found
+
+
+def all_signs(program):
+    """All signs of a program."""
+    places = [("place", one.called, point, mode) for one in program.procedures for point in range(one.points)
+              for mode in range(program.modes)]
+    calls = [(word, site) for word in ("enter", "over") for site in program.calls]
+    return [*places, *calls, *[("catch", site) for site in program.catches], ("full",)]
+
+
+def model_steps(program, limit, most=None):
+    """The least numbers of steps to the ends of runs at a limit, by all situations, up to a greatest number."""
+    layer = {(mode, (), (program.main, 0)) for mode in program.starts}
+    seen, found, steps = set(layer), {}, 0
+    while layer and (most is None or steps < most):
+        steps += 1
+        layer = {option for one in layer for option in model_options(program, limit, one)} - seen
+        seen |= layer
+        for mode, _, spot in layer:
+            if isinstance(spot, str):
+                found[spot, mode] = steps
+    return found
+
+
+# The names of the copies: those of p with 0, 1, .. calls more that can be opened, then those of q.
+COPY_NAMES = {"p": "abcd", "q": "klmn"}
+
+
+def copied(program, limit):
+    """A program that does without a limit what another one with the procedures p and q does at a small one."""
+    every = tuple(range(program.modes))
+    made = []
+    for procedure in program.procedures:
+        for rest in range(limit, -1, -1):
+            moves = [(*move[:3], COPY_NAMES[move[3]][rest - 1] if rest > 0 else "x", *move[4:])
+                     if move[0] == "call" else move for move in procedure.moves]
+            made.append(Procedure.of(COPY_NAMES[procedure.called][rest], procedure.points, tuple(moves)))
+    main = [one for one in made if one.called == COPY_NAMES[program.main][limit]]
+    others = [one for one in made if one != main[0]]
+    fall = Procedure("x", 1, ("fail", 0, every))
+    return Program.of(program.modes, program.starts, (*main, *others, fall))
+
+
+def some_copied(seed, many):
+    """Programs with the procedures p, or p and q, and limits for which they can be copied."""
+    chance = random.Random(seed)
+    found = []
+    for _ in range(many):
+        names = chance.choice([["p"], ["p", "q"], ["q", "p"]])
+        modes = chance.randint(1, 3)
+        made = []
+        for name in names:
+            moves = [some_move(chance, modes, 4, names) for _ in range(chance.randint(2, 8))]
+            made.append(Procedure.of(name, 4, tuple(moves)))
+        program = Program.of(modes, some_modes(chance, modes), tuple(made))
+        found.extend([(program, limit) for limit in range(4 if len(names) == 1 else 2)])
+    return found
+
+
+def step_program(last, *parts):
+    """A chain of procedures: each calls the one behind it so many times and goes so many steps; the last one goes."""
+    made = []
+    for place, (calls, goes) in enumerate(parts):
+        moves = [("call", point, point + 1, RING_NAMES[place + 1], (0,), None) for point in range(calls)]
+        moves += [("go", point, point + 1, ((0, 0),)) for point in range(calls, calls + goes)]
+        made.append(Procedure(RING_NAMES[place], calls + goes + 1, *moves, ("leave", calls + goes, (0,))))
+    moves = [("go", point, point + 1, ((0, 0),)) for point in range(last)]
+    made.append(Procedure(RING_NAMES[len(parts)], last + 1, *moves, ("leave", last, (0,))))
+    return Program(1, (0,), *made)
+
+
+# The shortest runs of them that are left have 1000 and 1001 steps; they are runs at the limit 5.
+STEPS_1000 = step_program(7, (2, 1), (3, 2), (1, 2), (4, 3), (4, 1))
+STEPS_1001 = step_program(6, (4, 0), (2, 0), (2, 2), (3, 1), (2, 1))

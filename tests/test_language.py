@@ -113,6 +113,9 @@ decode hex fromhex format register mro elements open input law""".split())
 OPERATORS = set("""__add__ __and__ __or__ __sub__ __xor__ __invert__ __bool__ __contains__ __getitem__ __iter__ __call__
 __enter__ __exit__ __init__ __eq__ __str__ __len__""".split())
 
+# Printing examples gives the builtins one name more.
+BUILTINS = set(dir(builtins)) - {"_"}
+
 
 def classes():
     return [node for path in FILES for node in nodes(path, ast.ClassDef)]
@@ -130,11 +133,14 @@ class Names(unittest.TestCase):
         methods = {node.name for one in classes() for node in one.body if isinstance(node, ast.FunctionDef)}
         stored = {node.attr for path in FILES for node in nodes(path, ast.Attribute) if isinstance(node.ctx, ast.Store)}
         self.assertEqual(stored & (methods | ATTRIBUTES), set())
+        marked = {node.name for one in classes() for node in one.body if getattr(node, "decorator_list", [])}
+        plain = {node.name for one in classes() for node in one.body if getattr(node, "decorator_list", None) == []}
+        self.assertEqual(marked & plain, set())
         self.assertLessEqual({name for name in methods if name.startswith("__")}, OPERATORS)
 
     def test_no_variable_has_the_name_of_a_builtin_a_class_or_an_import(self):
         for path in FILES:
-            barred = set(dir(builtins)) | {node.name for node in nodes(path, ast.ClassDef)}
+            barred = BUILTINS | {node.name for node in nodes(path, ast.ClassDef)}
             barred |= {alias.name for node in nodes(path, ast.ImportFrom) for alias in node.names}
             self.assertEqual(assigned(path) & barred, set(), path)
 
@@ -158,7 +164,7 @@ class Calls(unittest.TestCase):
 
     def test_only_the_builtins_of_the_language(self):
         for path in FILES:
-            used = {node.id for node in nodes(path, ast.Name)} & set(dir(builtins))
+            used = {node.id for node in nodes(path, ast.Name)} & BUILTINS
             self.assertLessEqual(used, CALLED | ERRORS | {"property", "classmethod", "staticmethod"}, path)
 
     def test_no_generator_no_handler_and_no_sorting_in_place(self):

@@ -27,7 +27,7 @@ class Part:
     def __init__(self, procedure, numbers, width):
         self.label = procedure.called
         self.size = procedure.points
-        self.records = _records(procedure, numbers)
+        self.records = _calls_of(procedure, numbers)
         self.ways, self.asks = _ways(procedure, self.records, width)
 
     def record_at(self, site):
@@ -54,7 +54,7 @@ class Plan:
         self.parts = tuple([Part(told[label], self.numbers, modes) for label in labels])
 
 
-def _records(procedure, numbers):
+def _calls_of(procedure, numbers):
     """The calls of a procedure by the indices of their moves."""
     caller = numbers[procedure.called]
     found = {}

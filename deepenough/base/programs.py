@@ -74,6 +74,8 @@ class Memo:
 
     def __init__(self):
         self.ladder = None
+        self.stairs = None
+        self.showings = {}
 
 
 class Program:
@@ -143,15 +145,22 @@ class Program:
         """What has been worked out about the program."""
         return self._memo
 
+    def has_site(self, value):
+        """Whether the value is a site of the program."""
+        if not isinstance(value, tuple) or len(value) != 2 or value[0] not in self:
+            return False
+        moves = self[value[0]].moves
+        return is_whole_within(value[1], 0, len(moves) - 1) and moves[value[1]][0] == "call"
+
     def move(self, site):
         """The call at a site."""
-        if not self._has_site(site):
+        if not self.has_site(site):
             raise UnknownSite(site)
         return self[site[0]].moves[site[1]]
 
     def with_caught(self, site, caught):
         """The program in which falls at a site are caught at this point, or, for None, not at all."""
-        if not self._has_site(site):
+        if not self.has_site(site):
             raise UnknownSite(site)
         name, index = site
         if caught is not None and not is_whole_within(caught, 0, self[name].points - 1):
@@ -164,7 +173,7 @@ class Program:
             raise UnknownSite(sites)
         points = {name: {} for name in self.names}
         for site in sites:
-            if not self._has_site(site):
+            if not self.has_site(site):
                 raise UnknownSite(site)
             points[site[0]][site[1]] = None
         return self._replaced(points)
@@ -200,13 +209,6 @@ class Program:
         if not all([is_name(name) for name in told.values()]):
             raise InvalidOperation("the new name of a procedure is a name")
         return self._made(tuple([procedure.told_by(told) for procedure in self._procedures]))
-
-    def _has_site(self, value):
-        """Whether the value is a site of the program."""
-        if not isinstance(value, tuple) or len(value) != 2 or value[0] not in self:
-            return False
-        moves = self[value[0]].moves
-        return is_whole_within(value[1], 0, len(moves) - 1) and moves[value[1]][0] == "call"
 
     def _replaced(self, points):
         """The program in which falls are caught at other points, by the names and the indices of the calls."""

@@ -35,10 +35,11 @@ class Ladder:
                 self.numbers[codes] = len(self.told)
                 self.told.append(codes)
 
-    def has_round(self):
-        """Whether the rows come round, and first plus period is not too great."""
+    def check_round(self):
+        """The error of rows for which first plus period is too great. From now on it is known how they come round."""
         self.climb(MOST_ROWS)
-        return self.span is not None and len(self.told) <= MOST_ROWS
+        if self.span is None or len(self.told) > MOST_ROWS:
+            raise TooMany(MOST_ROWS)
 
     def place(self, number):
         """The least number with the same row as a number up to which the rows are known."""
@@ -48,8 +49,8 @@ class Ladder:
 
     def place_of(self, limit):
         """The place of a limit other than None, with the error of rows that come round too late."""
-        if limit >= MOST_ROWS and not self.has_round():
-            raise TooMany(MOST_ROWS)
+        if limit >= MOST_ROWS:
+            self.check_round()
         self.climb(limit)
         return self.place(limit)
 
@@ -63,11 +64,14 @@ class Ladder:
         """The values at a limit, which follow from the row of the limit that is less by one."""
         if limit is None:
             return self.without_limit()[1]
-        if limit == 0:
-            return self.worked[0]
-        place = self.place_of(limit - 1)
-        self.climb(place + 1)
-        return self.worked[place + 1]
+        if limit > MOST_ROWS:
+            self.check_round()
+        return self.values_of(limit)
+
+    def values_of(self, number):
+        """The values at a number, however late the rows come round."""
+        self.climb(number)
+        return self.worked[self.place(number - 1) + 1 if number > 0 else 0]
 
     def without_limit(self):
         """The row without a limit, and the values of which it is."""

@@ -1,29 +1,29 @@
 """Rows: what calls can do that have been entered with so many calls more that can be opened."""
 
+from deepenough.base.checks import check_limit, check_program
 from deepenough.base.forms import is_mode_set
-from deepenough.base.programs import Program
-from deepenough.base.words import is_limit
-from deepenough.errors import InvalidLimit, InvalidModes, InvalidProgram, InvalidRow, UnknownName
+from deepenough.errors import InvalidModes, InvalidRow, UnknownName
 from deepenough.know.ladders import ladder_of
 from deepenough.know.spelling import codes_told, spelled
 
 
 def row(program, limit):
     """The row of a limit."""
-    _check_program_and_limit(program, limit)
+    check_program(program)
+    check_limit(limit)
     ladder = ladder_of(program)
     return spelled(ladder.board, ladder.codes_at(limit))
 
 
 def is_row(program, value):
     """Whether the value is a row of the program by its form."""
-    _check_program(program)
+    check_program(program)
     return codes_told(ladder_of(program).board, value) is not None
 
 
 def next_row(program, value):
     """The row that follows from a row."""
-    _check_program(program)
+    check_program(program)
     board = ladder_of(program).board
     codes = codes_told(board, value)
     if codes is None:
@@ -33,7 +33,8 @@ def next_row(program, value):
 
 def reached(program, limit, name, modes):
     """The pairs of a point and a mode to which a procedure can come that is entered in one of these modes."""
-    _check_program_and_limit(program, limit)
+    check_program(program)
+    check_limit(limit)
     if name not in program:
         raise UnknownName(name)
     if not is_mode_set(modes, program.modes):
@@ -48,16 +49,3 @@ def reached(program, limit, name, modes):
     nodes = range(plan.parts[number].size * plan.width)
     return tuple([(node // plan.width, node % plan.width) for node in nodes
                   if come >> board.stood_from + node & 1])
-
-
-def _check_program(program):
-    """The error for a program."""
-    if not isinstance(program, Program):
-        raise InvalidProgram("this is no program")
-
-
-def _check_program_and_limit(program, limit):
-    """The errors for a program and a limit."""
-    _check_program(program)
-    if not is_limit(limit):
-        raise InvalidLimit("this is no limit")

@@ -41,7 +41,7 @@ def _code_of(board, value):
         return None
     code = board.endless if goes_on else 0
     for mode in leaves:
-        code |= 1 << mode
+        code = code | 1 << mode
     for mode in fails:
-        code |= 1 << board.width + mode
+        code = code | 1 << board.width + mode
     return code

@@ -1,8 +1,8 @@
 """Situations, their options, and runs at a limit."""
 
-from deepenough.base.programs import Program
-from deepenough.base.words import is_limit, is_whole, is_whole_within
-from deepenough.errors import InvalidLimit, InvalidNumber, InvalidOperation, InvalidProgram, InvalidRun, TooMany
+from deepenough.base.checks import check_limit, check_program
+from deepenough.base.words import is_whole, is_whole_within
+from deepenough.errors import InvalidNumber, InvalidOperation, InvalidRun, TooMany
 from deepenough.run.steps import (ENDINGS, first_state, is_refused, situation_behind, situation_of, state_of, stepped,
                                   walked, ways_at)
 
@@ -11,14 +11,14 @@ MOST_STEPS = 1000
 
 def is_situation(program, value):
     """Whether the value is a situation by its form."""
-    if not isinstance(program, Program):
-        raise InvalidProgram("only a program has situations")
+    check_program(program)
     return state_of(program.in_numbers, value) is not None
 
 
 def options(program, limit, situation):
     """The tuple of the situations behind one step."""
-    _check_program_and_limit(program, limit)
+    check_program(program)
+    check_limit(limit)
     plan = program.in_numbers
     state = state_of(plan, situation)
     if state is None:
@@ -33,7 +33,8 @@ class Run:
     """A run at a limit. It never changes."""
 
     def __init__(self, program, limit, start, *choices):
-        _check_program_and_limit(program, limit)
+        check_program(program)
+        check_limit(limit)
         walk = None
         if is_whole(start) and start in program.starts:
             walk = walked(program.in_numbers, limit, start, choices)
@@ -118,8 +119,7 @@ class Run:
 
     def at(self, limit):
         """The run with the same start and choices at another limit."""
-        if not is_limit(limit):
-            raise InvalidLimit("this is no limit")
+        check_limit(limit)
         if walked(self._program.in_numbers, limit, self._start, self._choices) is None:
             raise InvalidOperation("some choice is the index of no option at this limit")
         return Run(self._program, limit, self._start, *self._choices)
@@ -148,14 +148,6 @@ class Run:
 
     def __str__(self):
         return f"run of {len(self._choices)} steps, {self._state[3]} open calls"
-
-
-def _check_program_and_limit(program, limit):
-    """The errors for a program and a limit."""
-    if not isinstance(program, Program):
-        raise InvalidProgram("this is no program")
-    if not is_limit(limit):
-        raise InvalidLimit("this is no limit")
 
 
 def _told(plan, limit, start, choices):

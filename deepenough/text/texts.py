@@ -1,5 +1,6 @@
 """The texts of programs."""
 
+from deepenough.base.checks import check_program
 from deepenough.base.programs import Procedure, Program
 from deepenough.base.words import is_name
 from deepenough.errors import InvalidProgram, ParseError
@@ -13,8 +14,7 @@ PROCEDURE = "procedure"
 
 def write_program(program):
     """The text of a program."""
-    if not isinstance(program, Program):
-        raise InvalidProgram("only a program has a text")
+    check_program(program)
     lines = [f"modes {program.modes} starts {_digits(program.starts)}"]
     for procedure in program.procedures:
         lines.append(f"procedure {procedure.called} {procedure.points}")

@@ -1,0 +1,1 @@
+"""What runs of a program show."""

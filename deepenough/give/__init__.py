@@ -1,0 +1,1 @@
+"""What a program can do, and with how few steps."""

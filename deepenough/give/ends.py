@@ -1,0 +1,120 @@
+"""How the runs of a program end, at all limits."""
+
+from deepenough.base.checks import check_limit, check_program
+from deepenough.base.words import is_whole, is_whole_from
+from deepenough.errors import InvalidOperation, TooMany
+from deepenough.give.forms import end_number, is_end, is_ends
+from deepenough.give.short import short_choices, shortest
+from deepenough.know.ladders import ladder_of
+from deepenough.know.rounds import marked_limits, round_paper, tells_rounds
+from deepenough.know.spelling import triple_of
+from deepenough.run.runs import MOST_STEPS
+from deepenough.run.steps import ENDINGS, walked
+
+
+def outcome(program, limit):
+    """What runs can do at a limit: the modes in which they can end left and failed, and whether one can go on."""
+    check_program(program)
+    check_limit(limit)
+    ladder = ladder_of(program)
+    return triple_of(ladder.board, _started(program, ladder.codes_at(limit)))
+
+
+def ends_at(program, end):
+    """The set of all limits at which some run has this end."""
+    check_program(program)
+    _check_end(program, end)
+    return _limits_with(program, 1 << end_number(end, program.modes))
+
+
+def endless_at(program):
+    """The set of all limits at which some run can go on for ever."""
+    check_program(program)
+    return _limits_with(program, ladder_of(program).board.endless)
+
+
+def surely_at(program, ends):
+    """The set of all limits at which no run goes on for ever, and each end of a run is one of these."""
+    check_program(program)
+    if not is_ends(ends, program.modes):
+        raise InvalidOperation("this is no ascending tuple of ends of the program")
+    told = sum([1 << end_number(end, program.modes) for end in ends])
+    codes = _all_started(program)
+    return marked_limits(ladder_of(program), [code | told == told for code in codes])
+
+
+def outcomes(program):
+    """All outcomes at limits other than None, with the sets of the limits that have them."""
+    check_program(program)
+    codes = _all_started(program)
+    ladder = ladder_of(program)
+    found = {triple_of(ladder.board, code): code for code in codes}
+    return {triple: marked_limits(ladder, [code == found[triple] for code in codes]) for triple in sorted(found)}
+
+
+def end_paper(program, end):
+    """Any end paper: a short run at the least limit that has the end, or how the rows come round without it."""
+    check_program(program)
+    _check_end(program, end)
+    number = end_number(end, program.modes)
+    for limit, code in enumerate(_all_started(program)):
+        if code >> number & 1:
+            steps, start = shortest(program, limit, number)
+            if steps > MOST_STEPS:
+                raise TooMany(MOST_STEPS)
+            return ("run", limit, start, short_choices(program, limit, start, number))
+    return ("never", *round_paper(program))
+
+
+def is_end_paper(program, end, value):
+    """Whether the value is an end paper of the program and the end."""
+    check_program(program)
+    _check_end(program, end)
+    if not isinstance(value, tuple) or len(value) != 4:
+        return False
+    if value[0] == "run":
+        return _has_end(program, end, value[1], value[2], value[3])
+    if value[0] != "never" or not tells_rounds(program, value[1], value[2], value[3]):
+        return False
+    # The rows are the right ones, so it is enough to look at those that are known.
+    told = ladder_of(program).told[:value[1] + value[2]]
+    number = end_number(end, program.modes)
+    return not any([_started(program, codes) >> number & 1 for codes in told])
+
+
+def _check_end(program, end):
+    """The error for an end."""
+    if not is_end(end, program.modes):
+        raise InvalidOperation("this is no end of the program")
+
+
+def _started(program, codes):
+    """What a row tells of the main procedure, for all starts together."""
+    plan = program.in_numbers
+    code = 0
+    for start in plan.begins:
+        code |= codes[plan.top * plan.width + start]
+    return code
+
+
+def _all_started(program):
+    """The same for all rows until they have come round, with the error of those that do so too late."""
+    ladder = ladder_of(program)
+    ladder.check_round()
+    return [_started(program, codes) for codes in ladder.told]
+
+
+def _limits_with(program, bit):
+    """The set of all limits at which the main procedure, entered in some start, has a bit in its code."""
+    codes = _all_started(program)
+    return marked_limits(ladder_of(program), [code & bit > 0 for code in codes])
+
+
+def _has_end(program, end, limit, start, choices):
+    """Whether these are a run at a limit other than None that has the end, for all values."""
+    if not is_whole_from(limit, 0) or not is_whole(start) or start not in program.starts:
+        return False
+    if not isinstance(choices, tuple):
+        return False
+    walk = walked(program.in_numbers, limit, start, choices)
+    return walk is not None and (ENDINGS.get(walk[0][0]), walk[0][1]) == end
