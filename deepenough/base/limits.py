@@ -12,24 +12,25 @@ DIGITS = "0123456789"
 # No number in the text of a set is greater than 3999: first and period are at most 2000.
 LONGEST_NUMBER = 4
 
-# Of each number it is asked whether it is in one set and whether it is in the other one.
-# These are the answers with which it is in the joined set.
-IN_BOTH = ((True, True),)
-IN_SOME = ((True, True), (True, False), (False, True))
-IN_FIRST_ALONE = ((True, False),)
-IN_JUST_ONE = ((True, False), (False, True))
+# Each period up to 2000 is made of these and of at most one greater prime.
+PRIMES = (2, 3, 5, 7, 11, 13, 17, 19, 23, 29, 31, 37, 41, 43)
 
 
 class Limits:
-    """A set of integers from 0 on that comes round."""
+    """A set of integers from 0 on that comes round.
+
+    Sets of numbers are kept as integers with a bit for each number, which makes all answers quick: `_early` has the
+    members below first, which is `_low`, and `_cycle` the rests by the period, which is `_span`.
+    """
 
     def __init__(self, few, first, period, rests):
         if not _tell_a_set(few, first, period, rests):
             raise InvalidLimits("these are not few, first, period and rests of a set of limits")
-        early = _marks(few, first)
-        # The same set can be told in many ways. Only the least one is kept, so equal sets have equal marks.
-        self._cycle = _least_cycle(_marks(rests, period))
-        self._early = early[:_least_first(early, self._cycle)]
+        # The same set can be told in many ways. Only the least one is kept, so equal sets have equal parts.
+        self._cycle, self._span = _least_cycle(_bits(rests), period)
+        self._early, self._low = _least_early(_bits(few), first, self._cycle, self._span)
+        self._few = None
+        self._rests = None
 
     @classmethod
     def every(cls):
@@ -57,22 +58,26 @@ class Limits:
     @property
     def few(self):
         """The members below first."""
-        return _marked(self._early)
+        if self._few is None:
+            self._few = _numbers(self._early)
+        return self._few
 
     @property
     def first(self):
         """The number from which on the set comes round."""
-        return len(self._early)
+        return self._low
 
     @property
     def period(self):
         """The least period."""
-        return len(self._cycle)
+        return self._span
 
     @property
     def rests(self):
         """The rests by the period that the members from first on have."""
-        return _marked(self._cycle)
+        if self._rests is None:
+            self._rests = _numbers(self._cycle)
+        return self._rests
 
     @property
     def least(self):
@@ -82,44 +87,46 @@ class Limits:
     @property
     def is_finite(self):
         """Whether there are finitely many members."""
-        return not self.rests
+        return self._cycle == 0
 
     def is_within(self, other):
         """Whether all members are in the other set."""
-        return not (self - other)
+        early, cycle, other_early, other_cycle, _, _ = _aligned(self, other)
+        return early & other_early == early and cycle & other_cycle == cycle
 
     def following(self, number):
         """The least member that is not less than a number, or None."""
         if not is_whole_from(number, 0):
             raise InvalidNumber(number)
-        # One period from first on has each rest once: if there is no member up to its end, there is none behind it.
-        for value in range(number, max(number, self.first) + self.period):
-            if value in self:
-                return value
-        return None
+        if number < self._low and self._early >> number:
+            return number + _lowest(self._early >> number)
+        if self._cycle == 0:
+            return None
+        # One period has each rest once, so there is a member in it.
+        start = max(number, self._low)
+        return start + _lowest(_turned(self._cycle, self._span, -start))
 
     def count(self, number):
         """How many members are less than a number."""
         if not is_whole_from(number, 0):
             raise InvalidNumber(number)
-        early = len([value for value in self.few if value < number])
-        if number <= self.first:
-            return early
+        if number <= self._low:
+            return _many(self._early & (1 << number) - 1)
         # The number can have forty digits, so whole periods are multiplied and not counted.
-        periods, more = divmod(number - self.first, self.period)
-        late = len([value for value in self._late() if value < self.first + more])
-        return early + periods * len(self.rests) + late
+        periods, more = divmod(number - self._low, self._span)
+        late = _many(self._late() & (1 << more) - 1)
+        return _many(self._early) + periods * _many(self._cycle) + late
 
     def members(self, many):
         """The tuple of the least so many members, fewer if there are no more."""
         if not is_whole_within(many, 0, MOST_MEMBERS):
             raise InvalidNumber(many)
-        starts = self._late()
-        found = list(self.few)
-        gone = 0
+        found = list(self.few[:many])
+        starts = _numbers(self._late())
+        gone = self._low
         while starts and len(found) < many:
             found.extend([value + gone for value in starts])
-            gone = gone + self.period
+            gone = gone + self._span
         return tuple(found[:many])
 
     def moved(self, number):
@@ -128,48 +135,53 @@ class Limits:
             raise InvalidNumber(number)
         # If first is 0, the sum is never too great. Otherwise the number ahead of first breaks the round,
         # and it still does so when it is moved: the sum is the very first of the moved set.
-        first = self.first + number
-        if first > LARGEST:
+        low = self._low + number
+        if low > LARGEST:
             raise TooMany(LARGEST)
-        few = [value + number for value in self.few if value + number >= 0]
-        rests = sorted([(rest + number) % self.period for rest in self.rests])
-        return Limits(tuple(few), max(0, first), self.period, tuple(rests))
+        early = self._early << number if number >= 0 else self._early >> -number
+        return _made(early, max(0, low), _turned(self._cycle, self._span, number), self._span)
 
     def _late(self):
-        """For each rest the least member from first on with it, in ascending order."""
-        return [value for value in range(self.first, self.first + self.period) if value in self]
+        """One period from first on, with a bit for each number counted from there."""
+        return _turned(self._cycle, self._span, -self._low)
 
     def __and__(self, other):
-        return _joined(self, other, IN_BOTH)
+        early, cycle, other_early, other_cycle, low, span = _aligned(self, other)
+        return _made(early & other_early, low, cycle & other_cycle, span)
 
     def __or__(self, other):
-        return _joined(self, other, IN_SOME)
+        early, cycle, other_early, other_cycle, low, span = _aligned(self, other)
+        return _made(early | other_early, low, cycle | other_cycle, span)
 
     def __sub__(self, other):
-        return _joined(self, other, IN_FIRST_ALONE)
+        early, cycle, other_early, other_cycle, low, span = _aligned(self, other)
+        return _made(early & ~other_early, low, cycle & ~other_cycle, span)
 
     def __xor__(self, other):
-        return _joined(self, other, IN_JUST_ONE)
+        early, cycle, other_early, other_cycle, low, span = _aligned(self, other)
+        return _made(early ^ other_early, low, cycle ^ other_cycle, span)
 
     def __invert__(self):
-        return Limits.every() - self
+        return _made(self._early ^ (1 << self._low) - 1, self._low, self._cycle ^ (1 << self._span) - 1, self._span)
 
     def __contains__(self, value):
         if not is_whole_from(value, 0):
             return False
-        if value < self.first:
-            return self._early[value]
-        return self._cycle[value % self.period]
+        if value < self._low:
+            return self._early >> value & 1 == 1
+        return self._cycle >> value % self._span & 1 == 1
 
     def __eq__(self, other):
-        return isinstance(other, Limits) and self._early == other._early and self._cycle == other._cycle
+        if not isinstance(other, Limits) or self._low != other._low or self._span != other._span:
+            return False
+        return self._early == other._early and self._cycle == other._cycle
 
     def __bool__(self):
-        return self.least is not None
+        return bool(self._early | self._cycle)
 
     def __str__(self):
         few = [str(value) for value in self.few]
-        late = [f"{value}+{self.period}k" for value in self._late()]
+        late = [f"{value + self._low}+{self._span}k" for value in _numbers(self._late())]
         words = [*few, *late]
         if not words:
             return "none"
@@ -224,43 +236,111 @@ def _tell_a_set(few, first, period, rests):
     return is_ascending_below(few, first) and is_ascending_below(rests, period)
 
 
-def _joined(one, other, answers):
-    """The set of the numbers for which being in one set and in the other one is among the answers."""
+def _made(early, low, cycle, span):
+    """The set with these parts, which need not be the least ones."""
+    cycle, span = _least_cycle(cycle, span)
+    early, low = _least_early(early, low, cycle, span)
+    made = Limits((), 0, 1, ())
+    made._early = early
+    made._low = low
+    made._cycle = cycle
+    made._span = span
+    return made
+
+
+def _aligned(one, other):
+    """The parts of two sets, told with the same first and the same period; these two come last."""
     if not isinstance(other, Limits):
         raise InvalidLimits("the other one is no set of limits")
-    period = lcm(one.period, other.period)
-    if period > LARGEST:
+    span = lcm(one._span, other._span)
+    if span > LARGEST:
         raise TooMany(LARGEST)
-    first = max(one.first, other.first)
-    few = [value for value in range(first) if (value in one, value in other) in answers]
-    late = [value for value in range(first, first + period) if (value in one, value in other) in answers]
-    rests = sorted([value % period for value in late])
-    return Limits(tuple(few), first, period, tuple(rests))
+    low = max(one._low, other._low)
+    return (_early_below(one, low), _filled(one._cycle, one._span, span),
+            _early_below(other, low), _filled(other._cycle, other._span, span), low, span)
 
 
-def _marks(values, size):
-    """For each number below size whether it is one of the values."""
-    chosen = set(values)
-    return tuple([number in chosen for number in range(size)])
+def _early_below(limits, low):
+    """The members of a set that are less than a number, which is not less than its first."""
+    if limits._low == low:
+        return limits._early
+    return limits._early | _filled(limits._cycle, limits._span, low) >> limits._low << limits._low
 
 
-def _marked(marks):
-    """The ascending tuple of the numbers that are marked."""
-    return tuple([number for number, mark in enumerate(marks) if mark])
+def _filled(cycle, span, size):
+    """The numbers below a size that have the rests of a cycle."""
+    if span == 1:
+        return (1 << size) - 1 if cycle else 0
+    while span < size:
+        cycle = cycle | cycle << span
+        span = span * 2
+    return cycle & (1 << size) - 1
 
 
-def _least_cycle(cycle):
-    """The shortest beginning of a cycle of which the cycle is a repetition."""
-    size = len(cycle)
-    step = 1
-    while size % step > 0 or cycle != cycle[:step] * (size // step):
-        step += 1
-    return cycle[:step]
+def _turned(cycle, span, number):
+    """The rests of a cycle plus a number."""
+    shift = number % span
+    return (cycle << shift | cycle >> span - shift) & (1 << span) - 1
 
 
-def _least_first(early, cycle):
-    """The least number from which on the early marks go as the cycle does."""
-    first = len(early)
-    while first > 0 and early[first - 1] == cycle[(first - 1) % len(cycle)]:
-        first -= 1
-    return first
+def _least_cycle(cycle, span):
+    """The same rests by the least period, and this one."""
+    left = span
+    for prime in PRIMES:
+        if left == 1:
+            break
+        while left % prime == 0:
+            left = left // prime
+            cycle, span = _shorter(cycle, span, prime)
+    if left > 1:
+        return _shorter(cycle, span, left)
+    return cycle, span
+
+
+def _shorter(cycle, span, prime):
+    """The same rests by a period that is less by a prime factor, or by the same one if there are not the same."""
+    step = span // prime
+    if cycle >> step == cycle & (1 << span - step) - 1:
+        return cycle & (1 << step) - 1, step
+    return cycle, span
+
+
+def _least_early(early, low, cycle, span):
+    """The members below the least first, and this one."""
+    # From the last number on that is not as the cycle would have it, all are.
+    low = (early ^ _filled(cycle, span, low)).bit_length()
+    return early & (1 << low) - 1, low
+
+
+def _bits(values):
+    """The bits of an ascending tuple of numbers."""
+    if len(values) < 16:
+        return sum([1 << value for value in values])
+    # With many numbers it is quicker to write the bits down.
+    digits = ["0"] * (values[-1] + 1)
+    for value in values:
+        digits[-1 - value] = "1"
+    return int("".join(digits), 2)
+
+
+def _numbers(bits):
+    """The ascending tuple of the numbers of bits."""
+    digits = f"{bits:b}"[::-1]
+    if digits.count("1") * 4 > len(digits):
+        return tuple([number for number, digit in enumerate(digits) if digit == "1"])
+    found = []
+    number = digits.find("1")
+    while number >= 0:
+        found.append(number)
+        number = digits.find("1", number + 1)
+    return tuple(found)
+
+
+def _many(bits):
+    """How many bits there are."""
+    return f"{bits:b}".count("1")
+
+
+def _lowest(bits):
+    """The number of the lowest bit."""
+    return (bits & -bits).bit_length() - 1

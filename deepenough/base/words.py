@@ -5,17 +5,17 @@ LONGEST_NAME = 8
 
 def is_whole(value):
     """Whether the value is an integer; True and False are none."""
-    return isinstance(value, int) and not isinstance(value, bool)
+    return type(value) is int
 
 
 def is_whole_within(value, low, high):
     """Whether the value is an integer from low to high, both included."""
-    return is_whole(value) and low <= value <= high
+    return type(value) is int and low <= value <= high
 
 
 def is_whole_from(value, low):
     """Whether the value is an integer that is not less than low."""
-    return is_whole(value) and low <= value
+    return type(value) is int and low <= value
 
 
 def is_ascending_below(value, bound):
@@ -24,7 +24,7 @@ def is_ascending_below(value, bound):
         return False
     last = -1
     for item in value:
-        if not is_whole(item) or item <= last:
+        if type(item) is not int or item <= last:
             return False
         last = item
     return last < bound
