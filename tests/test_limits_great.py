@@ -92,6 +92,10 @@ class Great(unittest.TestCase):
                     self.assertEqual(limits, Limits((), 0, period, rests))
                     self.assertEqual(period % limits.period, 0)
                     self.check(limits, members_of((), 0, period, rests))
+        for prime in (2, 3, 5, 7, 11, 13, 17, 19, 23, 29, 31, 37, 41, 43):
+            repeated = tuple(range(1, prime * prime, prime))
+            self.assertEqual(Limits((), 0, prime * prime, repeated).period, prime)
+            self.assertEqual(Limits((), 0, prime * prime, repeated[1:]).period, prime * prime)
         for prime in (2, 43, 47, 1009, 1999):
             self.assertEqual(Limits((), 0, prime, (prime - 1,)).period, prime)
             self.assertEqual(Limits((), 0, prime, tuple(range(prime))).period, 1)

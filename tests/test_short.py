@@ -105,7 +105,8 @@ class AtLimits(unittest.TestCase):
         self.assertEqual([least_steps(TWICE, limit, LEFT) for limit in (0, 1, 2, 59, 60)],
                          [3, 9, 21, 3 * (2 ** 60 - 1), 3 * (2 ** 61 - 1)])
         self.assertEqual(len(short_run(TWICE, 7, LEFT)), 765)
-        check_raises(self, TooMany, {"limit": 1000}, short_run, TWICE, 8, LEFT)
+        for limit in (8, 30, 60):
+            check_raises(self, TooMany, {"limit": 1000}, short_run, TWICE, limit, LEFT)
         self.assertEqual(len(short_run(STEPS_1000, 60, LEFT)), 1000)
         self.assertEqual(len(short_run(STEPS_1000, None, LEFT)), 1000)
         self.assertEqual(least_steps(STEPS_1001, None, LEFT), 1001)

@@ -44,7 +44,7 @@ class Showing:
     def check_round(self):
         """The error of more different pairs of a row and truths than there may be."""
         self.climb(MOST_ROWS)
-        if self.span is None or len(self.told) > MOST_ROWS:
+        if self.span is None:
             raise TooMany(MOST_ROWS)
 
     def truths_at(self, limit):
@@ -91,7 +91,7 @@ class Showing:
 
 def showing_of(program, sign):
     """The truths of a sign of a program."""
-    showings = program.memo.showings
+    showings = program._memo.showings
     if sign not in showings:
         showings[sign] = Showing(ladder_of(program), sign)
     return showings[sign]

@@ -27,7 +27,7 @@ def truths(program, limit, sign):
     check_limit(limit)
     _check_sign(program, sign)
     found = showing_of(program, sign).truths_at(limit)
-    return tuple([pair for entry, pair in enumerate(program.in_numbers.pairs) if found >> entry & 1])
+    return tuple([pair for entry, pair in enumerate(program._plan.pairs) if found >> entry & 1])
 
 
 def shows(program, limit, sign):
@@ -63,5 +63,5 @@ def _check_sign(program, sign):
 
 def _starting(program):
     """The main procedure in each start, as truths are told."""
-    plan = program.in_numbers
+    plan = program._plan
     return sum([1 << plan.top * plan.width + start for start in plan.begins])

@@ -88,7 +88,7 @@ class Program:
         self._starts = starts
         self._procedures = procedures
         self._places = {procedure.called: place for place, procedure in enumerate(procedures)}
-        self._in_numbers = None
+        self._planned = None
         self._memo = Memo()
 
     @classmethod
@@ -134,16 +134,11 @@ class Program:
         return tuple([site for site, move in _called_sites(self._procedures) if move[5] is not None])
 
     @property
-    def in_numbers(self):
+    def _plan(self):
         """The program in numbers."""
-        if self._in_numbers is None:
-            self._in_numbers = Plan(self._modes, self._starts, self._procedures)
-        return self._in_numbers
-
-    @property
-    def memo(self):
-        """What has been worked out about the program."""
-        return self._memo
+        if self._planned is None:
+            self._planned = Plan(self._modes, self._starts, self._procedures)
+        return self._planned
 
     def has_site(self, value):
         """Whether the value is a site of the program."""

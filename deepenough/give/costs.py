@@ -170,9 +170,9 @@ class Stairs:
 
 def stairs_of(program):
     """The tables of a program."""
-    memo = program.memo
+    memo = program._memo
     if memo.stairs is None:
-        memo.stairs = Stairs(program.in_numbers)
+        memo.stairs = Stairs(program._plan)
     return memo.stairs
 
 

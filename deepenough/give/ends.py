@@ -90,7 +90,7 @@ def _check_end(program, end):
 
 def _started(program, codes):
     """What a row tells of the main procedure, for all starts together."""
-    plan = program.in_numbers
+    plan = program._plan
     code = 0
     for start in plan.begins:
         code |= codes[plan.top * plan.width + start]
@@ -116,5 +116,5 @@ def _has_end(program, end, limit, start, choices):
         return False
     if not isinstance(choices, tuple):
         return False
-    walk = walked(program.in_numbers, limit, start, choices)
+    walk = walked(program._plan, limit, start, choices)
     return walk is not None and (ENDINGS.get(walk[0][0]), walk[0][1]) == end

@@ -34,12 +34,12 @@ def steps_table(program, limit):
     check_limit_up_to(limit, HIGHEST)
     table = stairs_of(program).table(limit)
     modes = program.modes
-    return {pair: _told(ends, modes) for pair, ends in zip(program.in_numbers.pairs, table)}
+    return {pair: _told(ends, modes) for pair, ends in zip(program._plan.pairs, table)}
 
 
 def shortest(program, limit, number):
     """The least number of steps of a run with an end that is told as a number, and its start; None if there is none."""
-    plan = program.in_numbers
+    plan = program._plan
     table = stairs_of(program).table(limit)
     found = [(steps, start) for start in plan.begins for end, steps in table[plan.top * plan.width + start]
              if end == number]

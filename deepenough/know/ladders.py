@@ -92,9 +92,9 @@ class Ladder:
 
 def ladder_of(program):
     """The rows of a program."""
-    memo = program.memo
+    memo = program._memo
     if memo.ladder is None:
-        memo.ladder = Ladder(program.in_numbers)
+        memo.ladder = Ladder(program._plan)
     return memo.ladder
 
 
@@ -117,7 +117,7 @@ def _limitless(board):
 
 def _going_on(board, found):
     """For each procedure and mode whether it can go on for ever, in itself or by calling deeper and deeper."""
-    callees = [value >> board.called_from & (1 << len(found)) - 1 for value in found]
+    callees = [value >> board.called_from for value in found]
     alone = [value & board.endless > 0 for value in found]
     alive = (1 << len(found)) - 1
     before = 0

@@ -40,7 +40,7 @@ def reached(program, limit, name, modes):
     if not is_mode_set(modes, program.modes):
         raise InvalidModes("this is no mode set of the program")
     ladder = ladder_of(program)
-    board, plan = ladder.board, program.in_numbers
+    board, plan = ladder.board, program._plan
     found = ladder.values_at(limit)
     number = plan.numbers[name]
     come = 0

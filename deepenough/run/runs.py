@@ -12,14 +12,14 @@ MOST_STEPS = 1000
 def is_situation(program, value):
     """Whether the value is a situation by its form."""
     check_program(program)
-    return state_of(program.in_numbers, value) is not None
+    return state_of(program._plan, value) is not None
 
 
 def options(program, limit, situation):
     """The tuple of the situations behind one step."""
     check_program(program)
     check_limit(limit)
-    plan = program.in_numbers
+    plan = program._plan
     state = state_of(plan, situation)
     if state is None:
         raise InvalidOperation("this is no situation of the program")
@@ -37,7 +37,7 @@ class Run:
         check_limit(limit)
         walk = None
         if is_whole(start) and start in program.starts:
-            walk = walked(program.in_numbers, limit, start, choices)
+            walk = walked(program._plan, limit, start, choices)
         if walk is None:
             raise InvalidRun("the run does not begin in a start, or a choice is the index of no option")
         if len(choices) > MOST_STEPS:
@@ -80,13 +80,13 @@ class Run:
     @property
     def situation(self):
         """The last situation."""
-        return situation_of(self._program.in_numbers, self._state)
+        return situation_of(self._program._plan, self._state)
 
     @property
     def situations(self):
         """All situations, the first one too."""
         if self._situations is None:
-            self._situations = _told(self._program.in_numbers, self._bound, self._start, self._choices)
+            self._situations = _told(self._program._plan, self._bound, self._start, self._choices)
         return self._situations
 
     @property
@@ -120,12 +120,12 @@ class Run:
     def at(self, limit):
         """The run with the same start and choices at another limit."""
         check_limit(limit)
-        if walked(self._program.in_numbers, limit, self._start, self._choices) is None:
+        if walked(self._program._plan, limit, self._start, self._choices) is None:
             raise InvalidOperation("some choice is the index of no option at this limit")
         return Run(self._program, limit, self._start, *self._choices)
 
     def __add__(self, index):
-        plan = self._program.in_numbers
+        plan = self._program._plan
         ways = ways_at(plan, self._state)
         if not is_whole_within(index, 0, len(ways) - 1):
             raise InvalidOperation("this is the index of no option")
