@@ -154,6 +154,35 @@ class Names(unittest.TestCase):
                     self.assertEqual(len(found), 4, kept)
 
 
+class DoubleUnderscores(unittest.TestCase):
+    def found(self, *names):
+        return [(one.name, node) for one in classes() for node in one.body if getattr(node, "name", "") in names]
+
+    def test_texts_add_nothing_and_end_as_they_may(self):
+        found = self.found("__str__", "__repr__")
+        self.assertGreater(len(found), 4)
+        for name, node in found:
+            signs = [other.op for other in ast.walk(node) if isinstance(other, (ast.BinOp, ast.AugAssign))]
+            self.assertEqual([sign for sign in signs if isinstance(sign, ast.Add)], [], name)
+            self.assertIsInstance(node.body[-1], ast.Return, name)
+            for other in ast.walk(node):
+                if isinstance(other, ast.Return):
+                    joined = isinstance(other.value, ast.Call) and ast.unparse(other.value.func) in ("', '.join", "str")
+                    told = isinstance(other.value, ast.JoinedStr) or isinstance(getattr(other.value, "value", 0), str)
+                    self.assertTrue(joined or told, name)
+
+    def test_lengths_are_measured(self):
+        for name, node in self.found("__len__"):
+            self.assertRegex(ast.unparse(node.body[-1]), r"\Areturn len\(.*\)\Z", name)
+
+    def test_texts_lengths_and_comparisons_change_nothing(self):
+        for name, node in self.found("__str__", "__repr__", "__len__", "__eq__"):
+            for other in ast.walk(node):
+                self.assertNotIsInstance(other, (ast.AugAssign, ast.Delete, ast.AnnAssign), name)
+                if isinstance(other, ast.Assign):
+                    self.assertTrue(all(isinstance(target, ast.Name) for target in other.targets), name)
+
+
 class Calls(unittest.TestCase):
     def test_only_the_methods_of_the_language(self):
         own = {node.name for path in FILES for node in nodes(path, ast.FunctionDef)}

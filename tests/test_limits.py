@@ -403,6 +403,17 @@ class Texts(unittest.TestCase):
         self.assertEqual(str(Limits((), 5, 3, (0, 2)) - Limits.only((5,))), "6+3k, 8+3k")
         self.assertEqual(str(Limits((1, 2), 4, 3, (0, 1))), "1, 2, 4+3k, 6+3k")
 
+    def test_with_and_without_each_part(self):
+        # First 0 and above 0, with few and without, without rests, with one and with several.
+        for few, first, period, rests, text in (
+                ((), 0, 6, (1, 3, 4), "1+6k, 3+6k, 4+6k"), ((), 0, 5, (0,), "0+5k"), ((), 0, 3, (0, 2), "0+3k, 2+3k"),
+                ((), 7, 6, (1, 3, 4), "7+6k, 9+6k, 10+6k"), ((), 8, 6, (1, 3, 4), "9+6k, 10+6k, 13+6k"),
+                ((), 11, 1, (0,), "11+1k"), ((0, 6), 7, 4, (0, 3), "0, 6, 7+4k, 8+4k"), ((3, 9), 10, 1, (), "3, 9"),
+                ((0, 1, 2), 3, 1, (), "0, 1, 2"), ((0,), 7, 6, (1,), "0, 7+6k"), ((1999,), 2000, 1, (), "1999")):
+            limits = Limits(few, first, period, rests)
+            self.assertEqual([str(limits), str(limits), f"{limits}"], [text, text, text])
+            self.assertEqual(limits.few, few)
+
     def test_in_a_longer_text(self):
         self.assertEqual(f"at {ODD}", "at 1+2k")
 

@@ -180,12 +180,18 @@ class Limits:
         return bool(self._early | self._cycle)
 
     def __str__(self):
-        few = [str(value) for value in self.few]
-        late = [f"{value + self._low}+{self._span}k" for value in _numbers(self._late())]
-        words = [*few, *late]
+        words = [str(value) for value in self.few]
+        if self._cycle:
+            words = [*words, *_late_words(self._cycle, self._low, self._span)]
         if not words:
             return "none"
         return ", ".join(words)
+
+
+def _late_words(cycle, low, span):
+    """The words of the members from first on: one for each rest, in ascending order of the members."""
+    behind = f"+{span}k"
+    return [f"{value + low}{behind}" for value in _numbers(_turned(cycle, span, -low))]
 
 
 def read_limits(text):
