@@ -1,10 +1,12 @@
 """What several tests need: wrong values, examples, programs, a plain model, and how an error is looked at."""
 
+import ast
 import doctest
 import random
 
 from deepenough.base.limits import Limits
 from deepenough.base.programs import Procedure, Program
+from deepenough.know.rows import next_row, row
 from deepenough.run.runs import Run
 
 
@@ -62,11 +64,18 @@ def check_raises(case, error, kept, call, *given):
         case.assertEqual((type(held), held), (type(value), value))
 
 
+class SameValues(doctest.OutputChecker):
+    """What is printed is right if it is the same value, whichever quotes the document has written."""
+
+    def check_output(self, want, got, flags):
+        return want == got or ast.literal_eval(want) == ast.literal_eval(got)
+
+
 def check_examples(case, text, names):
     """The examples of a text print what stands behind them."""
     test = doctest.DocTestParser().get_doctest(text, dict(names), "DOC.md", None, 0)
     report = []
-    result = doctest.DocTestRunner(verbose=False).run(test, out=report.append)
+    result = doctest.DocTestRunner(SameValues(), verbose=False).run(test, out=report.append)
     case.assertGreater(result.attempted, 0)
     case.assertEqual(result.failed, 0, "".join(report))
 
@@ -163,22 +172,35 @@ ROUND_40 = ring_program((4, 5), 3, 3)
 LATE_35 = ring_program((), 6, 6, chain=36)
 
 
+def members(limits, bound=130):
+    """The members of a set below a bound."""
+    return [number for number in range(bound) if number in limits]
+
+
+def rows_of(program, many):
+    """So many rows from that of the limit 0 on, each worked out of the one before."""
+    rows = [row(program, 0)]
+    while len(rows) < many:
+        rows.append(next_row(program, rows[-1]))
+    return tuple(rows[:many])
+
+
 # A plain model: what the document says of options and rows, word by word, over sets and situations.
 
-def model_options(program, limit, situation):
-    """The options of a situation, by [0.11] to [0.14]."""
+def model_steps_from(program, limit, situation):
+    """The options of a situation, by [0.11] to [0.14], each with the signs that the step to it shows."""
     mode, sites, spot = situation
     if spot in ("left", "failed"):
         return []
 
-    def fallen(sites):
+    def fallen(sites, *signs):
         while sites:
             name, index = sites[-1]
             sites = sites[:-1]
             caught = program[name].moves[index][5]
             if caught is not None:
-                return (mode, sites, (name, caught))
-        return (mode, (), "failed")
+                return (mode, sites, (name, caught)), [*signs, ("catch", (name, index))]
+        return (mode, (), "failed"), [*signs]
 
     found = []
     name, point = spot
@@ -186,20 +208,33 @@ def model_options(program, limit, situation):
         if move[1] != point:
             continue
         if move[0] == "go":
-            found.extend([(new, sites, (name, move[2])) for old, new in move[3] if old == mode])
+            found.extend([((new, sites, (name, move[2])), []) for old, new in move[3] if old == mode])
         elif move[0] == "call" and mode in move[4]:
-            entered = (*sites, (name, index))
+            site = (name, index)
             refused = limit is not None and len(sites) >= limit
-            found.append(fallen(entered) if refused else (mode, entered, (move[3], 0)))
+            entered = ((mode, (*sites, site), (move[3], 0)), [("enter", site)])
+            found.append(fallen((*sites, site), ("over", site)) if refused else entered)
         elif move[0] == "leave" and mode in move[2]:
             if sites:
                 caller, place = sites[-1]
-                found.append((mode, sites[:-1], (caller, program[caller].moves[place][2])))
+                found.append(((mode, sites[:-1], (caller, program[caller].moves[place][2])), []))
             else:
-                found.append((mode, (), "left"))
+                found.append(((mode, (), "left"), []))
         elif move[0] == "fail" and mode in move[2]:
             found.append(fallen(sites))
     return found
+
+
+def model_options(program, limit, situation):
+    """The options of a situation."""
+    return [option for option, _ in model_steps_from(program, limit, situation)]
+
+
+def model_signs_in(situation, limit):
+    """The signs that a situation shows itself."""
+    mode, sites, spot = situation
+    place = [("place", *spot, mode)] if isinstance(spot, tuple) else []
+    return [*place, ("full",)] if len(sites) == limit else place
 
 
 def all_situations(program, limit):
@@ -313,36 +348,33 @@ def model_limitless(program):
     return {(name, mode): (*held[name, mode][:2], (name, 0, mode) in for_ever) for name, mode in held}
 
 
-def catching_site(program, mode, sites):
-    """The site that catches a fall through these open calls, or None."""
-    caught = [site for site in sites if program.move(site)[5] is not None]
-    return caught[-1] if caught else None
-
-
 def model_signs(program, limit):
     """All signs that runs at a limit show, by all situations."""
     found = set()
-    for mode, sites, spot in all_situations(program, limit):
-        if not isinstance(spot, tuple):
-            continue
-        name, point = spot
-        found.add(("place", name, point, mode))
-        full = limit is not None and len(sites) == limit
-        if full:
-            found.add(("full",))
-        for index, move in enumerate(program[name].moves):
-            if move[1] != point or move[0] == "go" or mode not in move[4 if move[0] == "call" else 2]:
-                continue
-            site = (name, index)
-            fallen = None
-            if move[0] == "call":
-                found.add(("over" if full else "enter", site))
-                fallen = catching_site(program, mode, (*sites, site)) if full else None
-            elif move[0] == "fail":
-                fallen = catching_site(program, mode, sites)
-            if fallen is not None:
-                found.add(("catch", fallen))
+    for situation in all_situations(program, limit):
+        found.update(model_signs_in(situation, limit))
+        for _, signs in model_steps_from(program, limit, situation):
+            found.update(signs)
     return found
+
+
+def model_sign_steps(program, limit, most=None):
+    """The least numbers of steps of runs at a limit that show signs, up to a greatest number."""
+    layer = {(mode, (), (program.main, 0)) for mode in program.starts}
+    seen, found, steps = set(layer), {}, 0
+    while layer and (most is None or steps <= most):
+        behind = set()
+        for situation in layer:
+            for sign in model_signs_in(situation, limit):
+                found[sign] = min(steps, found.get(sign, steps))
+            for option, signs in model_steps_from(program, limit, situation):
+                behind.add(option)
+                for sign in signs:
+                    found.setdefault(sign, steps + 1)
+        layer = behind - seen
+        seen |= layer
+        steps += 1
+    return {sign: many for sign, many in found.items() if most is None or many <= most}
 
 
 def all_signs(program):
@@ -414,6 +446,7 @@ def step_program(last, *parts):
     return Program(1, (0,), *made)
 
 
-# The shortest runs of them that are left have 1000 and 1001 steps; they are runs at the limit 5.
+# The shortest runs of them that are left have 1000, 1001 and 1002 steps; they are runs at the limit 5.
 STEPS_1000 = step_program(7, (2, 1), (3, 2), (1, 2), (4, 3), (4, 1))
 STEPS_1001 = step_program(6, (4, 0), (2, 0), (2, 2), (3, 1), (2, 1))
+STEPS_1002 = step_program(6, (4, 1), (2, 0), (2, 2), (3, 1), (2, 1))

@@ -11,7 +11,7 @@ from deepenough.run.runs import Run
 
 from helper import (DOWN, JUST_400, JUST_401, LATE_35, LONG, NO_INTEGERS, NO_LIMITS, NO_PROGRAMS, NO_TUPLES, ROUND_40,
                     ROUND_630, STEPS_1000, STEPS_1001, TURN, VALUES, all_situations, can_go_on, check_examples,
-                    check_raises, copied, model_steps, raised, some_copied, some_programs)
+                    check_raises, copied, members, model_steps, raised, some_copied, some_programs)
 
 EXAMPLES = """
 >>> [outcome(TURN, 7), outcome(TURN, None), str(ends_at(TURN, ("left", 1))), str(endless_at(TURN)), str(surely_at(TURN, (("left", 0),)))]
@@ -39,10 +39,6 @@ def model_outcome(program, limit):
     graph = all_situations(program, limit)
     ends = {word: tuple(sorted(mode for mode, _, spot in graph if spot == word)) for word in ("left", "failed")}
     return (ends["left"], ends["failed"], bool(can_go_on(graph)))
-
-
-def members(limits, bound=130):
-    return [number for number in range(bound) if number in limits]
 
 
 class Examples(unittest.TestCase):

@@ -11,8 +11,8 @@ from deepenough.know.rounds import Rounds
 from deepenough.know.rows import reached
 
 from helper import (COPY_NAMES, DOWN, JUST_400, JUST_401, LATE_35, LONG, NO_LIMITS, NO_PROGRAMS, ROUND_40, ROUND_630,
-                    TURN, VALUES, all_pairs, all_signs, check_examples, check_raises, copied, entered, model_signs,
-                    raised, some_copied, some_programs)
+                    TURN, VALUES, all_pairs, all_signs, check_examples, check_raises, copied, entered, members,
+                    model_signs, raised, some_copied, some_programs)
 
 EXAMPLES = """
 >>> [truths(TURN, 0, ("place", "p", 2, 1)), truths(TURN, 1, ("place", "p", 2, 1)), truths(TURN, None, ("place", "p", 2, 1)), shows(TURN, 10 ** 30, ("over", ("p", 0)))]
@@ -29,10 +29,6 @@ FULL = ("full",)
 FALLS = Program(2, (0, 1), Procedure("main", 3, ("call", 0, 1, "q", (0, 1), 2), ("leave", 1, (0, 1)), ("fail", 2, (1,))),
                 Procedure("q", 2, ("call", 0, 1, "r", (0,), None), ("leave", 1, (0, 1)), ("leave", 0, (1,))),
                 Procedure("r", 2, ("go", 0, 1, ((0, 1),)), ("fail", 1, (1,)), ("leave", 0, (0,))))
-
-
-def members(limits, bound=130):
-    return [number for number in range(bound) if number in limits]
 
 
 class Examples(unittest.TestCase):

@@ -54,9 +54,13 @@ class Showing:
         if limit >= MOST_ROWS:
             self.check_round()
         self.climb(limit)
-        if limit < len(self.told):
-            return self.told[limit]
-        return self.told[self.low + (limit - self.low) % self.span]
+        return self.told[self.place(limit)]
+
+    def place(self, number):
+        """The least number with the same row and truths as a number up to which the truths are known."""
+        if number < len(self.told):
+            return number
+        return self.low + (number - self.low) % self.span
 
     def _without_limit(self):
         """The truths without a limit: the least ones that follow from themselves."""

@@ -5,6 +5,7 @@ from deepenough.base.checks import check_limit, check_program
 from deepenough.base.words import is_whole_within
 from deepenough.errors import InvalidSign
 from deepenough.know.rounds import marked_limits
+from deepenough.know.spelling import pairs_of
 
 
 def is_sign(program, value):
@@ -25,27 +26,26 @@ def truths(program, limit, sign):
     """The ascending tuple of the truths of a sign at a number, or without a limit."""
     check_program(program)
     check_limit(limit)
-    _check_sign(program, sign)
-    found = showing_of(program, sign).truths_at(limit)
-    return tuple([pair for entry, pair in enumerate(program._plan.pairs) if found >> entry & 1])
+    check_sign(program, sign)
+    return pairs_of(program._plan, showing_of(program, sign).truths_at(limit))
 
 
 def shows(program, limit, sign):
     """Whether the program shows a sign at a limit."""
     check_program(program)
     check_limit(limit)
-    _check_sign(program, sign)
-    return showing_of(program, sign).truths_at(limit) & _starting(program) > 0
+    check_sign(program, sign)
+    return showing_of(program, sign).truths_at(limit) & starting(program) > 0
 
 
 def sign_limits(program, sign):
     """The set of all limits at which the program shows a sign."""
     check_program(program)
-    _check_sign(program, sign)
+    check_sign(program, sign)
     showing = showing_of(program, sign)
     showing.check_round()
-    starting = _starting(program)
-    return marked_limits(showing, [found & starting > 0 for found in showing.told])
+    begun = starting(program)
+    return marked_limits(showing, [found & begun > 0 for found in showing.told])
 
 
 def _is_place(program, name, point, mode):
@@ -55,13 +55,12 @@ def _is_place(program, name, point, mode):
     return is_whole_within(mode, 0, program.modes - 1)
 
 
-def _check_sign(program, sign):
+def check_sign(program, sign):
     """The error for a sign."""
     if not is_sign(program, sign):
         raise InvalidSign("this is no sign of the program")
 
 
-def _starting(program):
+def starting(program):
     """The main procedure in each start, as truths are told."""
-    plan = program._plan
-    return sum([1 << plan.top * plan.width + start for start in plan.begins])
+    return sum([1 << entry for entry in program._plan.begun])

@@ -50,6 +50,8 @@ class Plan:
         self.numbers = {label: number for number, label in enumerate(labels)}
         self.top = self.numbers[procedures[0].called]
         self.pairs = tuple([(label, mode) for label in labels for mode in range(modes)])
+        # The numbers of the pairs of the main procedure and a start.
+        self.begun = tuple([self.top * modes + start for start in starts])
         told = {procedure.called: procedure for procedure in procedures}
         self.parts = tuple([Part(told[label], self.numbers, modes) for label in labels])
 

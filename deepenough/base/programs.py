@@ -75,6 +75,7 @@ class Memo:
     def __init__(self):
         self.ladder = None
         self.stairs = None
+        self.heights = None
         self.showings = {}
 
 

@@ -49,7 +49,7 @@ class Walker:
         """
         if node not in self.close:
             self.close[node] = _close(self.part, node, self.width)
-        ends, asks = self.close[node]
+        ends, asks, _ = self.close[node]
         found = {self.beyond + end: (more, None, end) for end, more in ends}
         for ask, steps in asks:
             targets = self.targets[ask]
@@ -59,33 +59,37 @@ class Walker:
                     found[target] = (total, ask, end)
         return found
 
+    def to_asks(self, best):
+        """The least numbers of steps to the nodes at which asks are made, and the nodes from which goes lead to these.
+
+        `best` is what `cheapest` tells.
+        """
+        found = {}
+        for node, cost in best.items():
+            if node < self.beyond:
+                for ask, steps in self.close[node][1]:
+                    if ask not in found or cost + steps < found[ask][0]:
+                        found[ask] = (cost + steps, node)
+        return found
+
     def path(self, node, way):
         """The choices that lead from a node by goes to the nearest one with a way, and the choice of this way."""
-        ways = self.part.ways
-        came, queue, done = {node: None}, [node], 0
-        while way not in ways[queue[done]]:
-            here = queue[done]
-            for choice, (kind, number) in enumerate(ways[here]):
-                if kind == GO and number not in came:
-                    came[number] = (here, choice)
-                    queue.append(number)
-            done += 1
-        here = queue[done]
-        choices = [ways[here].index(way)]
-        while came[here] is not None:
-            here, choice = came[here]
-            choices.append(choice)
-        return choices[::-1]
+        came = _came(self.part, node)
+        # The nearest nodes come first.
+        nearest = [here for here in came if way in self.part.ways[here]][0]
+        return [*_choices_to(came, nearest), self.part.ways[nearest].index(way)]
 
-    def legs(self, mode, end, behind):
-        """The way from point 0 in a mode to an end with as few steps as possible.
+    def goes(self, node, target):
+        """The choices that lead from a node to another one by goes alone."""
+        return _choices_to(_came(self.part, node), target)
+
+    def legs(self, mode, here, came):
+        """The way from point 0 in a mode to a node or an end to which `cheapest` tells from where it is come to.
 
         It is told by pairs of choices and of the procedure and mode that is entered behind them, with its end; None if
         no call is made there.
         """
-        _, came = self.cheapest(mode, behind, {})
         found = []
-        here = self.beyond + end
         while here != mode:
             here, ask, how = came[here]
             if ask is None:
@@ -107,6 +111,8 @@ class Stairs:
         self.tables = []
         self.settled = False
         self.limitless = None
+        self.views = {}
+        self.onwards = {}
 
     def table(self, limit):
         """The table of a limit."""
@@ -125,9 +131,25 @@ class Stairs:
             return self._without_limit()
         return self.ground if limit == 0 else self.table(limit - 1)
 
+    def view(self, limit, entry):
+        """What a call can come to that is entered at a limit: what `cheapest` and `to_asks` tell, as a triple."""
+        behind = self.below(limit)
+        # From the last table on all are equal, and so is what follows from them.
+        at = min(limit, len(self.tables) - 1) if self.settled and limit is not None else limit
+        if (at, entry) not in self.views:
+            number, mode = entry // self.plan.width, entry % self.plan.width
+            walker = self.walkers[number]
+            best, came = walker.cheapest(mode, behind, self.onwards.setdefault((at, number), {}))
+            self.views[(at, entry)] = (best, came, walker.to_asks(best))
+        return self.views[(at, entry)]
+
     def steps_to(self, limit, start, end):
         """The choices of a run that has an end, with as few steps as possible."""
-        todo = [([], (limit, self.plan.top * self.plan.width + start, end))]
+        return self.spread([([], (limit, self.plan.top * self.plan.width + start, end))])
+
+    def spread(self, legs):
+        """The choices of legs, with those of the calls that are entered in them, told with their limits."""
+        todo = legs[::-1]
         found = []
         while todo:
             choices, entered = todo.pop()
@@ -141,10 +163,9 @@ class Stairs:
         limit, entry, end = entered
         if limit == -1:
             return []
-        lower = None if limit is None else limit - 1
-        width = self.plan.width
-        legs = self.walkers[entry // width].legs(entry % width, end, self.below(limit))
-        return [(choices, None if call is None else (lower, call[0], call[1])) for choices, call in legs]
+        walker, mode = self.walkers[entry // self.plan.width], entry % self.plan.width
+        _, came, _ = self.view(limit, entry)
+        return with_limits(walker.legs(mode, walker.beyond + end, came), limit)
 
     def _worked_out(self, behind):
         """The table that follows from that of the calls."""
@@ -166,6 +187,12 @@ class Stairs:
                 before, found = found, self._worked_out(found)
             self.limitless = found
         return self.limitless
+
+
+def with_limits(legs, limit):
+    """Legs that are gone at a limit, with the limit of the calls that are entered in them."""
+    lower = None if limit is None else limit - 1
+    return [(choices, None if call is None else (lower, call[0], call[1])) for choices, call in legs]
 
 
 def stairs_of(program):
@@ -191,8 +218,30 @@ def _asks(part, width):
     return entries, targets
 
 
+def _came(part, node):
+    """From where each node is come to by goes alone from a node, with the choice; the nearest ones come first."""
+    came, queue, done = {node: None}, [node], 0
+    while done < len(queue):
+        here = queue[done]
+        done += 1
+        for choice, (kind, number) in enumerate(part.ways[here]):
+            if kind == GO and number not in came:
+                came[number] = (here, choice)
+                queue.append(number)
+    return came
+
+
+def _choices_to(came, here):
+    """The choices that lead to a node, told by from where each one is come to."""
+    choices = []
+    while came[here] is not None:
+        here, choice = came[here]
+        choices.append(choice)
+    return choices[::-1]
+
+
 def _close(part, node, width):
-    """By goes alone from a node: the least numbers of steps to ends, and to the nodes at which asks are made."""
+    """By goes alone from a node: the least numbers of steps to ends, to the nodes at which asks are made, to nodes."""
     steps = {node: 0}
     ends, asks = {}, []
     queue, done = [node], 0
@@ -209,4 +258,4 @@ def _close(part, node, width):
             else:
                 # The nearest nodes come first, so the first way to an end is the shortest.
                 ends.setdefault(number if kind == LEAVE else width + number, steps[here] + 1)
-    return list(ends.items()), asks
+    return list(ends.items()), asks, steps

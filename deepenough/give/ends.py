@@ -90,10 +90,9 @@ def _check_end(program, end):
 
 def _started(program, codes):
     """What a row tells of the main procedure, for all starts together."""
-    plan = program._plan
     code = 0
-    for start in plan.begins:
-        code |= codes[plan.top * plan.width + start]
+    for entry in program._plan.begun:
+        code |= codes[entry]
     return code
 
 

@@ -41,7 +41,7 @@ def shortest(program, limit, number):
     """The least number of steps of a run with an end that is told as a number, and its start; None if there is none."""
     plan = program._plan
     table = stairs_of(program).table(limit)
-    found = [(steps, start) for start in plan.begins for end, steps in table[plan.top * plan.width + start]
+    found = [(steps, start) for start, entry in zip(plan.begins, plan.begun) for end, steps in table[entry]
              if end == number]
     return min(found, default=None)
 

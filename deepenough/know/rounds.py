@@ -2,9 +2,9 @@
 
 from deepenough.base.checks import check_limit, check_program
 from deepenough.base.limits import Limits
-from deepenough.base.words import is_whole_from
+from deepenough.base.words import is_whole_from, is_whole_within
 from deepenough.errors import InvalidRow
-from deepenough.know.ladders import ladder_of
+from deepenough.know.ladders import MOST_ROWS, ladder_of
 from deepenough.know.spelling import codes_told, spelled
 
 
@@ -88,20 +88,46 @@ def tells_rounds(program, first, period, rows):
     """Whether these are the rows below first plus period, and the one behind them is that at first; for all values."""
     if not is_whole_from(first, 0) or not is_whole_from(period, 1):
         return False
-    if not isinstance(rows, tuple) or len(rows) != first + period:
+    if not isinstance(rows, tuple) or len(rows) != first + period or not tells_rows(program, rows):
+        return False
+    ladder = ladder_of(program)
+    ladder.climb(first + period)
+    return ladder.place(first + period) == ladder.place(first)
+
+
+def tells_short_rounds(program, first, period, rows):
+    """The same, but first plus period is not greater than the most rows that a program is asked for."""
+    if not is_whole_within(first, 0, MOST_ROWS) or not is_whole_within(period, 1, MOST_ROWS - first):
+        return False
+    return tells_rounds(program, first, period, rows)
+
+
+def tells_rows(program, rows):
+    """Whether these are the rows from that of the limit 0 on, for all values."""
+    if not isinstance(rows, tuple):
         return False
     ladder = ladder_of(program)
     for number, told in enumerate(rows):
         ladder.climb(number)
         if codes_told(ladder.board, told) != ladder.told[ladder.place(number)]:
             return False
-    ladder.climb(first + period)
-    return ladder.place(first + period) == ladder.place(first)
+    return True
+
+
+def rows_below(program, many):
+    """The rows of so many limits from 0 on, however late they come round."""
+    ladder = ladder_of(program)
+    ladder.climb(many - 1)
+    return tuple([spelled(ladder.board, ladder.told[ladder.place(number)]) for number in range(many)])
 
 
 def marked_limits(ladder, marks):
     """The set of the limits that are marked, by a mark for each limit that is less than first plus period."""
-    low, span = ladder.low, ladder.span
+    return set_of_marks(ladder.low, ladder.span, marks)
+
+
+def set_of_marks(low, span, marks):
+    """The same, by first and period."""
     few = [number for number in range(low) if marks[number]]
     rests = [number % span for number in range(low, low + span) if marks[number]]
     return Limits(tuple(few), low, span, tuple(sorted(rests)))

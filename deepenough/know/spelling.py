@@ -14,6 +14,17 @@ def triple_of(board, code):
     return (board.mode_sets[code & board.full], fails, code >= board.endless)
 
 
+def pairs_of(plan, bits):
+    """The ascending tuple of the pairs of a name and a mode that are told by a bit for each of them."""
+    return tuple([pair for entry, pair in enumerate(plan.pairs) if bits >> entry & 1])
+
+
+def are_pairs_of(plan, bits, value):
+    """Whether the value is this tuple."""
+    # True is equal to 1, so what is equal to the tuple can still have a pair that is none.
+    return pairs_of(plan, bits) == value and all([is_whole(mode) for _, mode in value])
+
+
 def codes_told(board, value):
     """The codes of a row of the program by its form; None for every other value."""
     pairs = board.plan.pairs

@@ -1,0 +1,1 @@
+"""Programs compared: with other ones, with other catching calls, from limit to limit."""
