@@ -1,7 +1,7 @@
 """How the runs of a program end, at all limits."""
 
 from deepenough.base.checks import check_limit, check_program
-from deepenough.base.words import is_whole, is_whole_from
+from deepenough.base.words import is_limit, is_whole
 from deepenough.errors import InvalidOperation, TooMany
 from deepenough.give.forms import end_number, is_end, is_ends
 from deepenough.give.short import short_choices, shortest
@@ -17,7 +17,7 @@ def outcome(program, limit):
     check_program(program)
     check_limit(limit)
     ladder = ladder_of(program)
-    return triple_of(ladder.board, _started(program, ladder.codes_at(limit)))
+    return triple_of(ladder.board, started(program, ladder.codes_at(limit)))
 
 
 def ends_at(program, end):
@@ -33,20 +33,27 @@ def endless_at(program):
     return _limits_with(program, ladder_of(program).board.endless)
 
 
+def fails_at(program):
+    """The set of all limits at which some run has failed."""
+    check_program(program)
+    board = ladder_of(program).board
+    return _limits_with(program, board.full << board.width)
+
+
 def surely_at(program, ends):
     """The set of all limits at which no run goes on for ever, and each end of a run is one of these."""
     check_program(program)
     if not is_ends(ends, program.modes):
         raise InvalidOperation("this is no ascending tuple of ends of the program")
     told = sum([1 << end_number(end, program.modes) for end in ends])
-    codes = _all_started(program)
+    codes = all_started(program)
     return marked_limits(ladder_of(program), [code | told == told for code in codes])
 
 
 def outcomes(program):
     """All outcomes at limits other than None, with the sets of the limits that have them."""
     check_program(program)
-    codes = _all_started(program)
+    codes = all_started(program)
     ladder = ladder_of(program)
     found = {triple_of(ladder.board, code): code for code in codes}
     return {triple: marked_limits(ladder, [code == found[triple] for code in codes]) for triple in sorted(found)}
@@ -57,7 +64,7 @@ def end_paper(program, end):
     check_program(program)
     _check_end(program, end)
     number = end_number(end, program.modes)
-    for limit, code in enumerate(_all_started(program)):
+    for limit, code in enumerate(all_started(program)):
         if code >> number & 1:
             steps, start = shortest(program, limit, number)
             if steps > MOST_STEPS:
@@ -73,13 +80,13 @@ def is_end_paper(program, end, value):
     if not isinstance(value, tuple) or len(value) != 4:
         return False
     if value[0] == "run":
-        return _has_end(program, end, value[1], value[2], value[3])
+        return value[1] is not None and end_of_run(program, value[1], value[2], value[3]) == end
     if value[0] != "never" or not tells_rounds(program, value[1], value[2], value[3]):
         return False
     # The rows are the right ones, so it is enough to look at those that are known.
     told = ladder_of(program).told[:value[1] + value[2]]
     number = end_number(end, program.modes)
-    return not any([_started(program, codes) >> number & 1 for codes in told])
+    return not any([started(program, codes) >> number & 1 for codes in told])
 
 
 def _check_end(program, end):
@@ -88,7 +95,7 @@ def _check_end(program, end):
         raise InvalidOperation("this is no end of the program")
 
 
-def _started(program, codes):
+def started(program, codes):
     """What a row tells of the main procedure, for all starts together."""
     code = 0
     for entry in program._plan.begun:
@@ -96,24 +103,24 @@ def _started(program, codes):
     return code
 
 
-def _all_started(program):
+def all_started(program):
     """The same for all rows until they have come round, with the error of those that do so too late."""
     ladder = ladder_of(program)
     ladder.check_round()
-    return [_started(program, codes) for codes in ladder.told]
+    return [started(program, codes) for codes in ladder.told]
 
 
-def _limits_with(program, bit):
-    """The set of all limits at which the main procedure, entered in some start, has a bit in its code."""
-    codes = _all_started(program)
-    return marked_limits(ladder_of(program), [code & bit > 0 for code in codes])
+def _limits_with(program, bits):
+    """The set of all limits at which the main procedure, entered in some start, has one of these bits in its code."""
+    codes = all_started(program)
+    return marked_limits(ladder_of(program), [code & bits > 0 for code in codes])
 
 
-def _has_end(program, end, limit, start, choices):
-    """Whether these are a run at a limit other than None that has the end, for all values."""
-    if not is_whole_from(limit, 0) or not is_whole(start) or start not in program.starts:
-        return False
-    if not isinstance(choices, tuple):
-        return False
+def end_of_run(program, limit, start, choices):
+    """The end of a run that is told by these values; None if it has not ended, and for all that tells no run."""
+    if not is_limit(limit) or not is_whole(start) or start not in program.starts or not isinstance(choices, tuple):
+        return None
     walk = walked(program._plan, limit, start, choices)
-    return walk is not None and (ENDINGS.get(walk[0][0]), walk[0][1]) == end
+    if walk is None or walk[0][0] not in ENDINGS:
+        return None
+    return (ENDINGS[walk[0][0]], walk[0][1])

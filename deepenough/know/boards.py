@@ -9,15 +9,33 @@ from deepenough.base.plans import CALL, GO, LEAVE
 
 
 class Chart:
-    """One procedure: what follows from codes."""
+    """One procedure: what follows from codes.
 
-    def __init__(self, part, board):
+    `static` has what lies behind each node by goes alone. Each ask is told by its bit, by the number of the procedure
+    and the mode that it enters, and by two tables: by the modes in which what it has entered is left, and in which it
+    fails, they tell what can be reached then.
+    """
+
+    def __init__(self, part, board, static, asks):
         self.part = part
         self.board = board
-        self.asked_from = board.stood_from + part.size * board.width
-        self.static = _closed(part, _own_values(self), board)
-        self.asks = _asks(self)
-        self.entries = sorted({entry for _, entry, _, _ in self.asks})
+        self.static = static
+        self.asks = asks
+        self.entries = sorted({entry for _, entry, _, _ in asks})
+        self.known = {}
+
+    def bared(self, sites):
+        """The chart of the same procedure, but that its calls at these sites do not catch."""
+        asks = [(bit, entry, left, self.board.uncaught if record.told_site in sites else failed)
+                for record, (bit, entry, left, failed) in zip(self.part.asks, self.asks)]
+        return Chart(self.part, self.board, self.static, asks)
+
+    def behind(self, codes):
+        """The same as `worked_out`, kept: the procedure follows from a few codes only, which come again."""
+        asked = tuple([codes[entry] for entry in self.entries])
+        if asked not in self.known:
+            self.known[asked] = self.worked_out(codes)
+        return self.known[asked]
 
     def worked_out(self, codes):
         """The values of the procedure in each mode, if calls do what the codes tell."""
@@ -63,7 +81,9 @@ class Board:
         self.called_from = 2 * plan.width + 1
         self.stood_from = self.called_from + len(plan.pairs)
         self.mode_sets = _mode_sets(plan.width)
-        self.charts = [Chart(part, self) for part in plan.parts]
+        # A fall that is not caught is a fall of the caller in the same mode.
+        self.uncaught = [modes << plan.width for modes in range(1 << plan.width)]
+        self.charts = [_chart(part, self) for part in plan.parts]
 
     def worked_out(self, codes):
         """The values of all procedures and modes, if calls do what the codes tell."""
@@ -90,17 +110,28 @@ def _mode_sets(width):
     return found
 
 
-def _own_values(chart):
+def _chart(part, board):
+    """The chart of a procedure."""
+    static = _closed(part, _own_values(part, board), board)
+    return Chart(part, board, static, _asks(part, board, static))
+
+
+def _asked_from(part, board):
+    """Where the field of the asks begins in a value of a procedure."""
+    return board.stood_from + part.size * board.width
+
+
+def _own_values(part, board):
     """What is done at each node: its value without what lies behind it."""
-    width, board = chart.board.width, chart.board
+    width, asked_from = board.width, _asked_from(part, board)
     found = []
-    for node, ways in enumerate(chart.part.ways):
+    for node, ways in enumerate(part.ways):
         value = 1 << board.stood_from + node
         mode = node % width
         for kind, number in ways:
             if kind == CALL:
-                entry = chart.part.asks[number].callee * width + mode
-                value |= 1 << chart.asked_from + number | 1 << board.called_from + entry
+                entry = part.asks[number].callee * width + mode
+                value |= 1 << asked_from + number | 1 << board.called_from + entry
             elif kind != GO:
                 value |= 1 << (mode if kind == LEAVE else width + mode)
         found.append(value)
@@ -128,27 +159,22 @@ def _closed(part, own, board):
     return [value | board.endless if value & again else value for value in found]
 
 
-def _asks(chart):
-    """For each ask its bit, the number of the procedure and the mode that it enters, and two tables.
-
-    By the modes in which what it has entered is left, and in which it fails, they tell what can be reached then.
-    """
-    width = chart.board.width
+def _asks(part, board, static):
+    """The asks of a procedure, as a chart tells them."""
+    width, asked_from = board.width, _asked_from(part, board)
     sums = {}
-    for record in chart.part.asks:
+    for record in part.asks:
         for point in (record.there, record.caught):
             if point is not None and point not in sums:
-                sums[point] = _sums(chart.static[point * width:(point + 1) * width])
-    # A fall that is not caught is a fall of the caller in the same mode.
-    uncaught = [modes << width for modes in range(1 << width)]
-    modes = [node % width for node, ways in enumerate(chart.part.ways) for kind, _ in ways if kind == CALL]
-    numbers = [number for ways in chart.part.ways for kind, number in ways if kind == CALL]
+                sums[point] = _sums(static[point * width:(point + 1) * width])
+    modes = [node % width for node, ways in enumerate(part.ways) for kind, _ in ways if kind == CALL]
+    numbers = [number for ways in part.ways for kind, number in ways if kind == CALL]
     mode_of = {number: mode for number, mode in zip(numbers, modes)}
     found = []
-    for number, record in enumerate(chart.part.asks):
-        failed = uncaught if record.caught is None else sums[record.caught]
+    for number, record in enumerate(part.asks):
+        failed = board.uncaught if record.caught is None else sums[record.caught]
         entry = record.callee * width + mode_of[number]
-        found.append((1 << chart.asked_from + number, entry, sums[record.there], failed))
+        found.append((1 << asked_from + number, entry, sums[record.there], failed))
     return found
 
 

@@ -10,14 +10,15 @@ class Ladder:
     """The rows of a program as codes, and the values from which they are.
 
     When they have come round, `low` is the first limit of [0.17] and `span` the period; until then `span` is None.
+    The charts are those of the board, or other ones in which fewer calls catch.
     """
 
-    def __init__(self, plan):
-        self.board = Board(plan)
+    def __init__(self, board, charts):
+        self.board = board
+        self.charts = charts
         self.low = 0
         self.span = None
-        self.known = [{} for _ in self.board.charts]
-        self.worked = [self.board.worked_out(self.board.refusing())]
+        self.worked = [self._values_behind(board.refusing())]
         self.told = [self.board.codes_of(self.worked[0])]
         self.numbers = {self.told[0]: 0}
         self.limitless = None
@@ -80,13 +81,10 @@ class Ladder:
         return self.limitless
 
     def _values_behind(self, codes):
-        """The values that follow from a row. Each procedure follows from a few codes only, which come again."""
+        """The values that follow from a row."""
         found = []
-        for chart, known in zip(self.board.charts, self.known):
-            asked = tuple([codes[entry] for entry in chart.entries])
-            if asked not in known:
-                known[asked] = chart.worked_out(codes)
-            found.extend(known[asked])
+        for chart in self.charts:
+            found.extend(chart.behind(codes))
         return tuple(found)
 
 
@@ -94,7 +92,8 @@ def ladder_of(program):
     """The rows of a program."""
     memo = program._memo
     if memo.ladder is None:
-        memo.ladder = Ladder(program._plan)
+        board = Board(program._plan)
+        memo.ladder = Ladder(board, board.charts)
     return memo.ladder
 
 

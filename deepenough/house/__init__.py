@@ -1,0 +1,1 @@
+"""A project: a program with promises about it."""
