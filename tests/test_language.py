@@ -183,6 +183,16 @@ class DoubleUnderscores(unittest.TestCase):
                     self.assertTrue(all(isinstance(target, ast.Name) for target in other.targets), name)
 
 
+    def test_the_end_of_a_block_does_nearly_nothing(self):
+        found = self.found("__exit__")
+        self.assertGreater(len(found), 0)
+        for name, node in found:
+            for other in ast.walk(node):
+                self.assertNotIsInstance(other, (ast.BinOp, ast.AugAssign, ast.Raise, ast.Return, ast.Compare, ast.If), name)
+                if isinstance(other, ast.Call):
+                    self.assertIn(other.func.attr, ("append", "clear"))
+
+
 class Calls(unittest.TestCase):
     def test_only_the_methods_of_the_language(self):
         own = {node.name for path in FILES for node in nodes(path, ast.FunctionDef)}

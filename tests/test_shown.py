@@ -281,6 +281,19 @@ class ShortRuns(unittest.TestCase):
             self.check(STEPS_1002, limit, ("place", "p", 4, 0), 1000)
         self.check(STEPS_1002, 4, at_the_end, None)
 
+    def test_what_has_been_asked_before_does_not_matter(self):
+        for program in [TURN, DOWN, FALLS, ROUND_40, *SMALL[:30]]:
+            asked = Program.of(program.modes, program.starts, program.procedures)
+            signs = all_signs(program)[::3]
+            for limit in (60, None, 0, 9):
+                for sign in signs:
+                    raised(sign_run, asked, limit, sign)
+            for limit in (2, 4, 60, None):
+                for sign in signs:
+                    fresh = Program.of(program.modes, program.starts, program.procedures)
+                    if raised(sign_run, fresh, limit, sign) is None:
+                        self.assertEqual(sign_run(asked, limit, sign), sign_run(fresh, limit, sign))
+
     def test_programs_whose_rows_come_round_late(self):
         for program in (JUST_401, ROUND_630):
             for limit in (0, 1, 7, 40):

@@ -31,7 +31,8 @@ def are_alike(one, other):
     """Whether two programs do the same at all limits and without one."""
     if parting_limit(one, other) is not None:
         return False
-    return _doing(one, ladder_of(one).codes_at(None)) == _doing(other, ladder_of(other).codes_at(None))
+    here, there = ladder_of(one).codes_at(None), ladder_of(other).codes_at(None)
+    return all([here[entry] == there[like] for entry, like in zip(one._plan.begun, other._plan.begun)])
 
 
 def parting_limit(one, other):
@@ -100,19 +101,19 @@ def _doings(program, many):
     """What a program does at each of so many limits from 0 on."""
     ladder = ladder_of(program)
     ladder.climb(many - 1)
-    found = [_doing(program, codes) for codes in ladder.told[:many]]
+    size, begun = ladder.board.called_from, program._plan.begun
+    found = [_joined(codes, begun, size) for codes in ladder.told[:many]]
     if len(found) == many:
         return found
     times = (many - ladder.low) // ladder.span + 1
     return (found[:ladder.low] + found[ladder.low:] * times)[:many]
 
 
-def _doing(program, codes):
-    """What the main procedure does in all starts, by a row; the codes stand one behind the other in one number."""
-    board = ladder_of(program).board
+def _joined(codes, begun, size):
+    """The codes of some pairs in one number, each with so many bits: what the main procedure does in all starts."""
     found = 0
-    for entry in program._plan.begun:
-        found = found << board.called_from | codes[entry]
+    for entry in begun:
+        found = found << size | codes[entry]
     return found
 
 

@@ -2,6 +2,7 @@
 
 from deepenough.errors import TooMany
 from deepenough.know.boards import Board
+from deepenough.know.spelling import is_same_row, spelled
 
 MOST_ROWS = 400
 
@@ -18,6 +19,7 @@ class Ladder:
         self.charts = charts
         self.low = 0
         self.span = None
+        self.spelt = {}
         self.worked = [self._values_behind(board.refusing())]
         self.told = [self.board.codes_of(self.worked[0])]
         self.numbers = {self.told[0]: 0}
@@ -54,6 +56,14 @@ class Ladder:
             self.check_round()
         self.climb(limit)
         return self.place(limit)
+
+    def is_row_at(self, number, value):
+        """Whether the value is the row of a number, however late the rows come round."""
+        self.climb(number)
+        place = self.place(number)
+        if place not in self.spelt:
+            self.spelt[place] = spelled(self.board, self.told[place])
+        return is_same_row(self.spelt[place], value)
 
     def codes_at(self, limit):
         """The row of a limit."""

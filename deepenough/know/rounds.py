@@ -108,8 +108,7 @@ def tells_rows(program, rows):
         return False
     ladder = ladder_of(program)
     for number, told in enumerate(rows):
-        ladder.climb(number)
-        if codes_told(ladder.board, told) != ladder.told[ladder.place(number)]:
+        if not ladder.is_row_at(number, told):
             return False
     return True
 

@@ -41,6 +41,20 @@ def codes_told(board, value):
     return tuple(codes)
 
 
+def is_same_row(told, value):
+    """Whether the value is a row that is told."""
+    if value != told:
+        return False
+    # True is equal to 1 and 0 to False, so what is equal to a row can still be none.
+    for (_, mode), (leaves, fails, goes_on) in value.items():
+        if type(mode) is not int or type(goes_on) is not bool:
+            return False
+        for held in (*leaves, *fails):
+            if type(held) is not int:
+                return False
+    return True
+
+
 def _code_of(board, value):
     """The code of a triple; None for every other value."""
     if not isinstance(value, tuple) or len(value) != 3:
