@@ -230,6 +230,7 @@ class Papers(unittest.TestCase):
         one, other = idle(ring_program((2,), 3, 3)), idle(ring_program((3,), 3, 3, chain=2))
         self.assertEqual([(Rounds(each).first, Rounds(each).period) for each in (one, other)], [(0, 4), (1, 6)])
         self.assertEqual(compare_paper(one, other)[:3], ("same", 1, 12))
+        self.assertEqual([str(same_limits(one, other)), str(less_limits(other, one))], ["0+1k", "0+1k"])
         for first, period in ((1, 12), (0, 12), (2, 12), (1, 24), (1, 4), (1, 6), (7, 36), (1, 13), (4, 396), (16, 384),
                               (17, 384), (5, 396), (1, 18), (1, 8)):
             right = first >= 1 and period % 12 == 0 and first + period <= 400

@@ -107,6 +107,12 @@ class OpenCalls(unittest.TestCase):
         self.assertEqual([chain_at(BEHIND, limit) for limit in (0, 1)], [(), (("main", 0),)])
         self.assertEqual(chain_at(BEHIND, 2), (("main", 0), ("q", 0)))
         self.assertEqual(chain_at(BEHIND, 3), (("main", 1), ("s", 0), ("t", 0)))
+        # In q the call of b comes behind that of r, which is left only if a call can be made in it.
+        inner = Program(1, (0,), Procedure("m", 1, ("call", 0, 0, "q", (0,), None)),
+                        Procedure("q", 3, ("call", 0, 1, "r", (0,), None), ("call", 1, 2, "b", (0,), None)),
+                        Procedure("r", 2, ("call", 0, 1, "b", (0,), None), ("leave", 1, (0,))),
+                        Procedure("b", 1, ("leave", 0, (0,))))
+        self.assertEqual([chain_at(inner, 2), chain_at(inner, 3)], [(("m", 0), ("q", 0)), (("m", 0), ("q", 0), ("r", 0))])
 
     def test_other_starts(self):
         self.assertEqual([most_open(TWO_STARTS.with_starts(starts), None) for starts in ((0,), (1,))], [0, 1])

@@ -258,6 +258,25 @@ class Papers(unittest.TestCase):
         self.assertIs(is_round_paper(JUST_401, (0, 1, (row(JUST_401, 0),))), False)
         self.assertIs(is_round_paper(TURN, round_paper(DOWN)), False)
 
+    def test_booleans_are_no_modes_and_numbers_no_booleans(self):
+        first, period, rows = round_paper(TURN)
+        self.assertEqual(rows[0], {("p", 0): ((1,), (), False), ("p", 1): ((0,), (), False)})
+        falls = Program(2, (0,), Procedure("p", 1, ("fail", 0, (0, 1))))
+        held = round_paper(falls)[2]
+        for program, right, wrong in (
+                (TURN, rows, {("p", False): ((1,), (), False), ("p", 1): ((0,), (), False)}),
+                (TURN, rows, {("p", 0): ((1,), (), False), ("p", True): ((0,), (), False)}),
+                (TURN, rows, {("p", 0): ((True,), (), False), ("p", 1): ((0,), (), False)}),
+                (TURN, rows, {("p", 0): ((1,), (), False), ("p", 1): ((False,), (), False)}),
+                (TURN, rows, {("p", 0): ((1,), (), 0), ("p", 1): ((0,), (), False)}),
+                (falls, held, {("p", 0): ((), (False,), False), ("p", 1): ((), (1,), False)}),
+                (falls, held, {("p", 0): ((), (0,), False), ("p", 1): ((), (True,), False)}),
+                (falls, held, {("p", 0): ((), (0,), False), ("p", 1): ((), (1,), 0)})):
+            self.assertEqual(wrong, right[0])
+            paper = round_paper(program)
+            self.assertIs(is_round_paper(program, paper), True)
+            self.assertIs(is_round_paper(program, (*paper[:2], (wrong, *right[1:]))), False)
+
     def test_each_single_row_counts(self):
         first, period, rows = round_paper(LATE_ROUND)
         for number in range(len(rows)):

@@ -83,6 +83,16 @@ class Papers(unittest.TestCase):
                 self.assertEqual(paper, long_paper(program, sign, *paper[:2]))
                 self.assertIs(is_sign_paper(program, sign, paper), True)
 
+    def test_a_judge_that_has_been_asked_nothing_before(self):
+        for program in ALL[:20]:
+            for sign in all_signs(program)[::4]:
+                paper = sign_paper(program, sign)
+                fresh = Program.of(program.modes, program.starts, program.procedures)
+                self.assertIs(is_sign_paper(fresh, sign, paper), True)
+                fresh = Program.of(program.modes, program.starts, program.procedures)
+                longer = long_paper(program, sign, paper[0] + 1, 2 * paper[1])
+                self.assertIs(is_sign_paper(fresh, sign, longer), True)
+
     def test_truths_that_come_round_behind_the_rows(self):
         self.assertEqual((Rounds(CHAIN).first, Rounds(CHAIN).period), (0, 1))
         for name, first in (("a", 1), ("b", 2), ("c", 3), ("d", 4)):
@@ -280,6 +290,32 @@ class ShortRuns(unittest.TestCase):
             check_raises(self, TooMany, {"limit": 1000}, sign_run, STEPS_1002, limit, at_the_end)
             self.check(STEPS_1002, limit, ("place", "p", 4, 0), 1000)
         self.check(STEPS_1002, 4, at_the_end, None)
+
+    def test_steps_that_are_the_thousandth(self):
+        # Behind 999 steps, or one step less, main calls the last procedure, or one that fails at once.
+        for program, point, steps in ((STEPS_1000, 3, 999), (STEPS_1001, 4, 1000)):
+            main = program["p"]
+            self.check(program, 5, ("place", "p", point, 0), steps)
+            calls = Procedure("p", main.points, *main.moves, ("call", point, point, "u", (0,), None))
+            enter = ("enter", ("p", len(main.moves)))
+            if steps == 999:
+                self.check(program.with_procedure(calls), 5, enter, 1000)
+            else:
+                check_raises(self, TooMany, {"limit": 1000}, sign_run, program.with_procedure(calls), 5, enter)
+        # The fall is caught with the second step of the call.
+        main = STEPS_1000["p"]
+        shorter = Procedure("p", main.points, *main.moves, ("call", 2, 2, "u", (0,), 2))
+        fails = STEPS_1000.with_procedure(shorter).with_procedure(Procedure("u", 8, *STEPS_1000["u"].moves, ("fail", 0, (0,))))
+        self.check(fails, 5, ("place", "p", 2, 0), 998)
+        self.check(fails, 5, ("catch", ("p", len(main.moves))), 1000)
+
+    def test_very_many_steps(self):
+        # Each call calls twice more, so the steps double with each limit.
+        twice = Program(1, (0,), Procedure("m", 2, ("call", 0, 1, "p", (0,), None)),
+                        Procedure("p", 3, ("call", 0, 1, "p", (0,), 1), ("call", 1, 2, "p", (0,), 2), ("leave", 2, (0,))))
+        place = ("place", "m", 1, 0)
+        self.check(twice, 3, place, 22)
+        check_raises(self, TooMany, {"limit": 1000}, sign_run, twice, 60, place)
 
     def test_what_has_been_asked_before_does_not_matter(self):
         for program in [TURN, DOWN, FALLS, ROUND_40, *SMALL[:30]]:

@@ -1,6 +1,6 @@
 """How many calls can be open at the same time."""
 
-from deepenough.ask.heights import called_in, heights_of
+from deepenough.ask.heights import heights_of
 from deepenough.ask.signs import starting
 from deepenough.base.checks import check_limit_up_to, check_program
 from deepenough.base.limits import Limits
@@ -28,7 +28,7 @@ def depth_limits(program, many):
     ladder.check_round()
     heights = heights_of(program)
     # With 0, 1, .., `last` calls more the sets are always other ones, and from there on they stay the same.
-    last = heights.most((1 << len(program._plan.pairs)) - 1, many)
+    last = heights.most(heights.opening(0), many)
     if max(ladder.low, last) + ladder.span > MOST_ROWS:
         raise TooMany(MOST_ROWS)
     if heights.opening(many) & starting(program):
@@ -49,7 +49,7 @@ def chain_at(program, limit):
     found = []
     for opened in range(many):
         value = ladder.values_of(limit - opened)[entry]
-        deeper = _lowest(called_in(board, value) & heights.opening(many - opened - 1))
+        deeper = _lowest(value >> board.called_from & heights.opening(many - opened - 1))
         found.append(_site(board.charts[entry // board.width], value, deeper))
         entry = deeper
     return tuple(found)

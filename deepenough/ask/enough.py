@@ -67,7 +67,8 @@ def is_enough_paper(program, value):
     if len(value) == 3 and value[0] == "from" and is_whole_within(value[1], 0, MOST_ROWS - 1):
         return _are_rows_up_to(program, value[1], value[2]) and ladder.told[ladder.place(value[1])] == codes
     if len(value) == 4 and value[0] == "never" and tells_short_rounds(program, value[1], value[2], value[3]):
-        return codes not in ladder.told[:value[1] + value[2]]
+        # The rows of the paper are the right ones, and all that there are.
+        return codes not in ladder.told
     return False
 
 

@@ -14,10 +14,10 @@ class Heights:
     """
 
     def __init__(self, ladder):
-        pairs = ladder.board.plan.pairs
-        called = _called(ladder)
+        board = ladder.board
+        called = [value >> board.called_from for value in ladder.without_limit()[1]]
         self.at_least = []
-        after = (1 << len(pairs)) - 1
+        after = (1 << len(board.plan.pairs)) - 1
         while not self.at_least or after != self.at_least[-1]:
             self.at_least.append(after)
             after = sum([1 << entry for entry, callees in enumerate(called) if callees & self.at_least[-1]])
@@ -44,13 +44,3 @@ def heights_of(program):
     if memo.heights is None:
         memo.heights = Heights(ladder_of(program))
     return memo.heights
-
-
-def called_in(board, value):
-    """The procedures and modes that are called in a value, as a number with bits."""
-    return value >> board.called_from & (1 << len(board.plan.pairs)) - 1
-
-
-def _called(ladder):
-    """For each procedure and mode those that it can call without a limit."""
-    return [called_in(ladder.board, value) for value in ladder.without_limit()[1]]

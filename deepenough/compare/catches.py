@@ -67,9 +67,8 @@ def is_never_paper(program, value):
     board, codes = ladder.board, ladder.codes_at(None)
     if codes_told(board, value[4]) != codes:
         return False
-    # The rows are the right ones, so it is enough to look at those that are known.
-    told = [codes, *ladder.told[:value[1] + value[2]]]
-    return not any([started(program, held) >> board.width & board.full for held in told])
+    # The rows of the paper are the right ones, and all that there are.
+    return not any([started(program, held) >> board.width & board.full for held in [codes, *ladder.told]])
 
 
 def _is_idle(program, site):

@@ -98,13 +98,10 @@ def _both_doings(one, other, many):
 
 
 def _doings(program, many):
-    """What a program does at each of so many limits from 0 on."""
+    """What a program whose rows are known to come round does at each of so many limits from 0 on."""
     ladder = ladder_of(program)
-    ladder.climb(many - 1)
     size, begun = ladder.board.called_from, program._plan.begun
-    found = [_joined(codes, begun, size) for codes in ladder.told[:many]]
-    if len(found) == many:
-        return found
+    found = [_joined(codes, begun, size) for codes in ladder.told]
     times = (many - ladder.low) // ladder.span + 1
     return (found[:ladder.low] + found[ladder.low:] * times)[:many]
 

@@ -83,10 +83,9 @@ def is_end_paper(program, end, value):
         return value[1] is not None and end_of_run(program, value[1], value[2], value[3]) == end
     if value[0] != "never" or not tells_rounds(program, value[1], value[2], value[3]):
         return False
-    # The rows are the right ones, so it is enough to look at those that are known.
-    told = ladder_of(program).told[:value[1] + value[2]]
+    # The rows of the paper are the right ones, and all that there are.
     number = end_number(end, program.modes)
-    return not any([started(program, codes) >> number & 1 for codes in told])
+    return not any([started(program, codes) >> number & 1 for codes in ladder_of(program).told])
 
 
 def _check_end(program, end):

@@ -103,9 +103,7 @@ def tells_short_rounds(program, first, period, rows):
 
 
 def tells_rows(program, rows):
-    """Whether these are the rows from that of the limit 0 on, for all values."""
-    if not isinstance(rows, tuple):
-        return False
+    """Whether the values of a tuple are the rows from that of the limit 0 on."""
     ladder = ladder_of(program)
     for number, told in enumerate(rows):
         if not ladder.is_row_at(number, told):
@@ -114,9 +112,8 @@ def tells_rows(program, rows):
 
 
 def rows_below(program, many):
-    """The rows of so many limits from 0 on, however late they come round."""
+    """The rows of so many limits from 0 on, if it is known how they come round."""
     ladder = ladder_of(program)
-    ladder.climb(many - 1)
     return tuple([spelled(ladder.board, ladder.told[ladder.place(number)]) for number in range(many)])
 
 
