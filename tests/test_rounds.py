@@ -259,7 +259,7 @@ class Papers(unittest.TestCase):
         self.assertIs(is_round_paper(TURN, round_paper(DOWN)), False)
 
     def test_booleans_are_no_modes_and_numbers_no_booleans(self):
-        first, period, rows = round_paper(TURN)
+        rows = round_paper(TURN)[2]
         self.assertEqual(rows[0], {("p", 0): ((1,), (), False), ("p", 1): ((0,), (), False)})
         falls = Program(2, (0,), Procedure("p", 1, ("fail", 0, (0, 1))))
         held = round_paper(falls)[2]
